@@ -13,7 +13,7 @@ import (
 // The tests of this file are promise 1: every function returns for all
 // arguments, modifies no argument and returns equal results for equal arguments.
 
-// textFunctions are all functions of chapters 1 and 2 with a text as their argument.
+// textFunctions are all functions of chapters 1 to 4 with a text as their argument.
 func textFunctions() map[string]func(s string) string {
 	return map[string]func(s string) string{
 		"SplitLines":      func(s string) string { return fmt.Sprintf("%q", impl.SplitLines(s)) },
@@ -28,6 +28,9 @@ func textFunctions() map[string]func(s string) string {
 		"CanQuote":        func(s string) string { return fmt.Sprint(impl.CanQuote(s)) },
 		"QuoteString":     func(s string) string { return fmt.Sprintf("%q", impl.QuoteString(s)) },
 		"ScanTokens":      func(s string) string { return fmt.Sprint(impl.ScanTokens(s)) },
+		"ExprOf":          func(s string) string { return fmt.Sprint(impl.ExprOf(s)) },
+		"IsLabel":         func(s string) string { return fmt.Sprint(impl.IsLabel(s)) },
+		"ParseStatement":  func(s string) string { return fmt.Sprint(impl.ParseStatement(s)) },
 	}
 }
 
@@ -108,6 +111,10 @@ func TestListFunctionsArePure(t *testing.T) {
 	valid, _, _ := impl.ScanTokens("F(A,'x') - B<007> . C :(L)")
 	for _, list := range [][]impl.Token{nil, {{}}, valid, valid[1:3], append(slices.Clone(valid), token), manyTokens(), slices.Repeat(valid, 1000)} {
 		checkKeeps(t, "PrintTokens", list, token, impl.PrintTokens)
+		for _, at := range []int64{-1, 0, 1, 2, 5, 16, 18} {
+			checkKeeps(t, "ParseExpr", list, token, func(list []impl.Token) string { return fmt.Sprint(impl.ParseExpr(list, at)) })
+			checkKeeps(t, "ParseElement", list, token, func(list []impl.Token) string { return fmt.Sprint(impl.ParseElement(list, at)) })
+		}
 	}
 }
 
@@ -141,6 +148,14 @@ func TestResultsAreNew(t *testing.T) {
 			return list
 		}, impl.Token{Kind: 77, Text: "changed"})
 	}
+	for _, s := range []string{"A", "F(B,A) G(C)", "'x'"} {
+		e, _ := impl.ExprOf(s)
+		checkNew(t, "NamesIn", func() []string { return impl.NamesIn(e) }, "changed")
+		checkNew(t, "CallsIn", func() []string { return impl.CallsIn(e) }, "changed")
+	}
+	for _, g := range []impl.Goto{{Always: "A"}, {Success: "A", Failure: "B"}} {
+		checkNew(t, "GotoLabels", func() []string { return impl.GotoLabels(g) }, "changed")
+	}
 }
 
 // TestFailuresHaveNoOtherResults checks that only the code and the number are left of a call that fails.
@@ -151,6 +166,12 @@ func TestFailuresHaveNoOtherResults(t *testing.T) {
 		}
 		if list, number, code := impl.ScanTokens(s); code != impl.OK && len(list) > 0 || code != impl.ErrSyntax && code != impl.ErrFull && number != 0 {
 			t.Errorf("ScanTokens(%.40q): %d tokens, %d, %d", s, len(list), number, code)
+		}
+		if e, ok := impl.ExprOf(s); !ok {
+			checkExpr(t, s, e, impl.Expr{})
+		}
+		if statement, code := impl.ParseStatement(s); code != impl.OK {
+			checkStatement(t, s, statement, impl.Statement{})
 		}
 	}
 }
@@ -163,5 +184,162 @@ func TestTokensWithAnyFields(t *testing.T) {
 		checkEqual(t, "ValidToken", impl.ValidToken(equal), impl.ValidToken(token))
 		checkEqual(t, "TokenText", impl.TokenText(equal), impl.TokenText(token))
 		checkEqual(t, "IsInfix", impl.IsInfix(equal), impl.IsInfix(token))
+	}
+}
+
+// roomy returns an equal expression, each of whose Kids have unused elements behind them.
+func roomy(e impl.Expr) impl.Expr {
+	list, _ := backing(e.Kids, leaf(77, "unused"))
+	for i := range list {
+		list[i] = roomy(list[i])
+	}
+	e.Kids = list
+	return e
+}
+
+// memoryOf returns all Kids of an expression, with the unused elements behind them.
+func memoryOf(e impl.Expr) [][]impl.Expr {
+	all := [][]impl.Expr{e.Kids[:cap(e.Kids)]}
+	for _, kid := range e.Kids {
+		all = append(all, memoryOf(kid)...)
+	}
+	return all
+}
+
+// checkKeepsExpr calls a function with an expression, and checks that no memory of it was modified.
+func checkKeepsExpr(t *testing.T, what string, e impl.Expr, call func(e impl.Expr) string) {
+	t.Helper()
+	e = roomy(e)
+	memory := memoryOf(e)
+	var want [][]impl.Expr
+	for _, kids := range memory {
+		want = append(want, slices.Clone(kids))
+	}
+	first := call(e)
+	for i := range memory {
+		if !slices.EqualFunc(memory[i], want[i], sameMemory) {
+			t.Errorf("%s modified %+v to %+v", what, want[i], memory[i])
+		}
+	}
+	checkEqual(t, what+": a second call", call(copyExpr(e)), first)
+}
+
+// sameMemory reports whether two nodes are equal and have the same Kids, not only equal ones.
+func sameMemory(a, b impl.Expr) bool {
+	if a.Kind != b.Kind || a.Num != b.Num || a.Text != b.Text || len(a.Kids) != len(b.Kids) || cap(a.Kids) != cap(b.Kids) {
+		return false
+	}
+	return cap(a.Kids) == 0 || &a.Kids[:1][0] == &b.Kids[:1][0]
+}
+
+// someExprs returns expressions, valid and invalid ones.
+func someExprs() []impl.Expr {
+	list := []impl.Expr{{}, {Kind: 99, Num: -1, Text: "\xff"}, series(impl.ExCat, variable("A"), 40), nested(impl.ExNeg, 300, variable("1")), call("F", make([]impl.Expr, 9)...)}
+	for _, s := range []string{"A", "'x' 1", "F(B,A) G(C) . X", "-A<1> | *B | @C .D $ E", "(A B)<F(), (C | D)>", "-(A - (B - C)) * $D / 2"} {
+		e, _ := impl.ExprOf(s)
+		list = append(list, e)
+	}
+	for i, e := range manyExprs() {
+		if i%17 == 0 {
+			list = append(list, e)
+		}
+	}
+	return list
+}
+
+func TestExpressionFunctionsArePure(t *testing.T) {
+	functions := map[string]func(e impl.Expr) string{
+		"ValidExpr": func(e impl.Expr) string { return fmt.Sprint(impl.ValidExpr(e)) },
+		"ExprNodes": func(e impl.Expr) string { return fmt.Sprint(impl.ExprNodes(e)) },
+		"PrintExpr": impl.PrintExpr,
+		"NamesIn":   func(e impl.Expr) string { return fmt.Sprintf("%q", impl.NamesIn(e)) },
+		"CallsIn":   func(e impl.Expr) string { return fmt.Sprintf("%q", impl.CallsIn(e)) },
+		"SameExpr": func(e impl.Expr) string {
+			return fmt.Sprint(impl.SameExpr(e, copyExpr(e)), impl.SameExpr(call("F", e), e))
+		},
+		"ValidStatement": func(e impl.Expr) string { return fmt.Sprint(impl.ValidStatement(statementOf(e))) },
+		"PrintStatement": func(e impl.Expr) string { return impl.PrintStatement(statementOf(e)) },
+		"SameStatement": func(e impl.Expr) string {
+			return fmt.Sprint(impl.SameStatement(statementOf(e), statementOf(copyExpr(e))))
+		},
+		"SameStatement 2": func(e impl.Expr) string { return fmt.Sprint(impl.SameStatement(subject(e), statementOf(e))) },
+	}
+	for what, call := range functions {
+		for _, e := range someExprs() {
+			checkKeepsExpr(t, what, e, call)
+		}
+	}
+}
+
+// statementOf returns a statement with an expression as each of its parts.
+func statementOf(e impl.Expr) impl.Statement {
+	return withGoto(withReplace(withPattern(subject(e), e), e), "L", "", "")
+}
+
+// checkOwnMemory checks that no two Kids of some expressions share memory, not even unused elements.
+func checkOwnMemory(t *testing.T, what string, list ...impl.Expr) {
+	t.Helper()
+	owner := map[*impl.Expr]bool{}
+	for _, e := range list {
+		for _, kids := range memoryOf(e) {
+			for i := range kids {
+				if owner[&kids[i]] {
+					t.Errorf("%s: memory is shared", what)
+					return
+				}
+				owner[&kids[i]] = true
+			}
+		}
+	}
+}
+
+func TestParsedExpressionsHaveTheirOwnMemory(t *testing.T) {
+	for _, s := range []string{"F(A,B,C,D,E)", "F(A,B)<G(A,B)> (A - B) . X", "(((A)))", "--$A", "A | (A | (A | A))", "F(F(A,A,A),F(A,A,A),F(A,A,A))"} {
+		first, _ := impl.ExprOf(s)
+		second, _ := impl.ExprOf(s)
+		tokens := scanned(t, s)
+		third, _, _ := impl.ParseExpr(tokens, 0)
+		element, _, _ := impl.ParseElement(tokens, 0)
+		checkOwnMemory(t, s, first, second, third, element)
+	}
+	for _, s := range []string{"L A(B,C)<D> E F | G(H) = 'x' A(B,C) :(L)", " (A B) C D =", " F(A,B,C) F(A,B,C) = F(A,B,C)"} {
+		first, _ := impl.ParseStatement(s)
+		second, _ := impl.ParseStatement(s)
+		checkOwnMemory(t, s, first.Subject, first.Pattern, first.Replace, second.Subject, second.Pattern, second.Replace)
+	}
+}
+
+func TestGotoFunctionsArePure(t *testing.T) {
+	texts := []string{"", "A", "ABCDEFGHIJKLM", "1", "\xff", strings.Repeat("A", 100000)}
+	for _, always := range texts {
+		for _, success := range texts {
+			for _, failure := range texts {
+				g := impl.Goto{Always: always, Success: success, Failure: failure}
+				equal := impl.Goto{Always: strings.Clone(always), Success: strings.Clone(success), Failure: strings.Clone(failure)}
+				checkEqual(t, "ValidGoto", impl.ValidGoto(equal), impl.ValidGoto(g))
+				checkEqual(t, "GotoText", impl.GotoText(equal), impl.GotoText(g))
+				checkList(t, "GotoLabels", impl.GotoLabels(equal), impl.GotoLabels(g))
+				if !impl.ValidGoto(g) {
+					checkEqual(t, "GotoText", impl.GotoText(g), "")
+					checkList(t, "GotoLabels", impl.GotoLabels(g), nil)
+				}
+			}
+		}
+	}
+}
+
+// TestParsingAnyTokens calls the parsers twice for tokens that need not be valid.
+func TestParsingAnyTokens(t *testing.T) {
+	for i, token := range manyTokens() {
+		for _, list := range [][]impl.Token{{token}, {token, name("A"), after(mark(impl.TkClose))}, {name("F"), mark(impl.TkOpen), token, mark(impl.TkClose)}, {name("A"), token, before(name("B"))}} {
+			at := int64(i % 5)
+			first, second := fmt.Sprint(impl.ParseExpr(list, at)), fmt.Sprint(impl.ParseExpr(slices.Clone(list), at))
+			checkEqual(t, "ParseExpr", second, first)
+			e, end, code := impl.ParseElement(list, at)
+			again, endAgain, codeAgain := impl.ParseElement(slices.Clone(list), at)
+			checkParsed(t, "ParseElement", []int64{endAgain, codeAgain}, again, e, end, code)
+			isValid := impl.PrintTokens(list) != "" && at <= int64(len(list))
+			checkEqual(t, "ErrInvalid", code == impl.ErrInvalid, !isValid)
+		}
 	}
 }
