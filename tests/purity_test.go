@@ -13,8 +13,9 @@ import (
 // The tests of this file are promise 1: every function returns for all
 // arguments, modifies no argument and returns equal results for equal arguments.
 
-// textFunctions are all functions of chapters 1 to 4 with a text as their argument.
+// textFunctions are all functions of chapters 1 to 6 with a text as their argument.
 func textFunctions() map[string]func(s string) string {
+	labels, _, _ := impl.ParseProgram("A B;a B;L B;END")
 	return map[string]func(s string) string{
 		"SplitLines":      func(s string) string { return fmt.Sprintf("%q", impl.SplitLines(s)) },
 		"ValidSource":     func(s string) string { return fmt.Sprint(impl.ValidSource(s)) },
@@ -31,6 +32,11 @@ func textFunctions() map[string]func(s string) string {
 		"ExprOf":          func(s string) string { return fmt.Sprint(impl.ExprOf(s)) },
 		"IsLabel":         func(s string) string { return fmt.Sprint(impl.IsLabel(s)) },
 		"ParseStatement":  func(s string) string { return fmt.Sprint(impl.ParseStatement(s)) },
+		"ParseProgram":    func(s string) string { return fmt.Sprint(impl.ParseProgram(s)) },
+		"LabelIndex":      func(s string) string { return fmt.Sprint(impl.LabelIndex(labels, s)) },
+		"StringValue":     func(s string) string { return fmt.Sprint(impl.StringValue(s)) },
+		"QuoteText":       func(s string) string { return fmt.Sprintf("%q", impl.QuoteText(s)) },
+		"ReadValue":       func(s string) string { return fmt.Sprint(impl.ReadValue(s)) },
 	}
 }
 
@@ -38,8 +44,8 @@ func textFunctions() map[string]func(s string) string {
 func strangeTexts() []string {
 	list := append(allBytes(), randomTexts(4, 1000, 200, allBytes())...)
 	list = append(list, randomTexts(5, 1000, 100, []string{"'", "\"", ";", "\n", "+", "*", " ", "A", "1", "\x00", "\xff", "\u20ac"})...)
-	for _, piece := range []string{"a", "1", " ", "\n", ";", "'", "\"", "+", "*", "_", "\x00", "\xff", "\u20ac", "a\n+", "';'"} {
-		for _, count := range []int{119, 120, 121, 200, 201, 3999, 4000, 4001, 100000} {
+	for _, piece := range []string{"a", "1", " ", "\n", ";", "'", "\"", "+", "*", "_", "\x00", "\xff", "\u20ac", "a\n+", "';'", " A;", " A\n", "<>"} {
+		for _, count := range []int{79, 80, 81, 119, 120, 121, 200, 201, 1200, 1201, 3999, 4000, 4001, 100000} {
 			list = append(list, strings.Repeat(piece, count))
 		}
 	}
@@ -156,6 +162,12 @@ func TestResultsAreNew(t *testing.T) {
 	for _, g := range []impl.Goto{{Always: "A"}, {Success: "A", Failure: "B"}} {
 		checkNew(t, "GotoLabels", func() []string { return impl.GotoLabels(g) }, "changed")
 	}
+	for _, s := range []string{"", " A", "L A(B) :(M)\nN C D = E :S(L)F(K)\nEND"} {
+		p := parsedProgram(t, s)
+		checkNew(t, "LabelsOf", func() []string { return impl.LabelsOf(p) }, "changed")
+		checkNew(t, "MissingLabels", func() []string { return impl.MissingLabels(p) }, "changed")
+		checkNew(t, "ProgramNames", func() []string { return impl.ProgramNames(p) }, "changed")
+	}
 }
 
 // TestFailuresHaveNoOtherResults checks that only the code and the number are left of a call that fails.
@@ -172,6 +184,15 @@ func TestFailuresHaveNoOtherResults(t *testing.T) {
 		}
 		if statement, code := impl.ParseStatement(s); code != impl.OK {
 			checkStatement(t, s, statement, impl.Statement{})
+		}
+		if p, number, code := impl.ParseProgram(s); code != impl.OK && len(p.Statements) > 0 || (code == impl.OK || code == impl.ErrInvalid) && number != 0 {
+			t.Errorf("ParseProgram(%.40q): %d statements, %d, %d", s, len(p.Statements), number, code)
+		}
+		if v, ok := impl.ReadValue(s); !ok {
+			checkEqual(t, s, v, impl.Value{})
+		}
+		if v, ok := impl.StringValue(s); !ok {
+			checkEqual(t, s, v, impl.Value{})
 		}
 	}
 }
@@ -342,4 +363,113 @@ func TestParsingAnyTokens(t *testing.T) {
 			checkEqual(t, "ErrInvalid", code == impl.ErrInvalid, !isValid)
 		}
 	}
+}
+
+// partsOf returns the expressions of some statements, also those that a statement does not have.
+func partsOf(list []impl.Statement) []impl.Expr {
+	var parts []impl.Expr
+	for _, s := range list {
+		parts = append(parts, s.Subject, s.Pattern, s.Replace)
+	}
+	return parts
+}
+
+// roomyProgram returns an equal program, each of whose lists has unused elements behind it.
+func roomyProgram(p impl.Program) impl.Program {
+	list, _ := backing(p.Statements, statementOf(variable("unused")))
+	for i, s := range list {
+		list[i].Subject, list[i].Pattern, list[i].Replace = roomy(s.Subject), roomy(s.Pattern), roomy(s.Replace)
+	}
+	return impl.Program{Statements: list}
+}
+
+// checkKeepsProgram calls a function with a program, and checks that no memory of it was modified.
+func checkKeepsProgram(t *testing.T, what string, p impl.Program, call func(p impl.Program) string) {
+	t.Helper()
+	p = roomyProgram(p)
+	statements := p.Statements[:cap(p.Statements)]
+	wantStatements := slices.Clone(statements)
+	kids := memoryOf(impl.Expr{Kids: partsOf(statements)})
+	var wantKids [][]impl.Expr
+	for _, list := range kids {
+		wantKids = append(wantKids, slices.Clone(list))
+	}
+	first := call(p)
+	for i, s := range statements {
+		want := wantStatements[i]
+		if !impl.SameStatement(s, want) || !slices.EqualFunc(partsOf(statements[i:i+1]), partsOf(wantStatements[i:i+1]), sameMemory) {
+			t.Errorf("%s modified %+v to %+v", what, want, s)
+		}
+	}
+	for i := range kids {
+		if !slices.EqualFunc(kids[i], wantKids[i], sameMemory) {
+			t.Errorf("%s modified %+v to %+v", what, wantKids[i], kids[i])
+		}
+	}
+	checkEqual(t, what+": a second call", call(copyProgram(p)), first)
+}
+
+// somePrograms returns programs, valid and invalid ones.
+func somePrograms(t *testing.T) []impl.Program {
+	t.Helper()
+	valid := parsedProgram(t, "M A(B,C)<D> E F | G(H) = 'x' A(B,C) :(L)\n B = -1\nL :S(N)F(K)\nEND")
+	list := []impl.Program{{}, valid, program(impl.Statement{}), program(slices.Concat(valid.Statements, valid.Statements)...), program(slices.Repeat(valid.Statements, 30)...), program(evenStatements(0)...), program(evenStatements(1)...)}
+	for _, e := range someExprs() {
+		list = append(list, program(statementOf(e), subject(e)), program(subject(variable("A")), statementOf(e), withReplace(subject(variable("B")), e)))
+	}
+	return list
+}
+
+func TestProgramFunctionsArePure(t *testing.T) {
+	functions := map[string]func(p impl.Program) string{
+		"ValidProgram": func(p impl.Program) string { return fmt.Sprint(impl.ValidProgram(p)) },
+		"SameProgram": func(p impl.Program) string {
+			return fmt.Sprint(impl.SameProgram(p, copyProgram(p)), impl.SameProgram(program(), p))
+		},
+		"PrintProgram":  impl.PrintProgram,
+		"LabelIndex":    func(p impl.Program) string { return fmt.Sprint(impl.LabelIndex(p, "L"), impl.LabelIndex(p, "")) },
+		"LabelsOf":      func(p impl.Program) string { return fmt.Sprintf("%q", impl.LabelsOf(p)) },
+		"MissingLabels": func(p impl.Program) string { return fmt.Sprintf("%q", impl.MissingLabels(p)) },
+		"ProgramNames":  func(p impl.Program) string { return fmt.Sprintf("%q", impl.ProgramNames(p)) },
+	}
+	for what, call := range functions {
+		for _, p := range somePrograms(t) {
+			checkKeepsProgram(t, what, p, call)
+		}
+	}
+}
+
+func TestParsedProgramsHaveTheirOwnMemory(t *testing.T) {
+	for _, source := range []string{" A", " A(B,C)<D> E\n A(B,C)<D> E\nL A(B,C)<D> E = A(B,C)\n", strings.Repeat(" A B C; (D - E) =;", 40)} {
+		first, second := parsedProgram(t, source), parsedProgram(t, source)
+		want := copyProgram(first)
+		checkOwnMemory(t, source, slices.Concat(partsOf(first.Statements), partsOf(second.Statements))...)
+		memory := first.Statements[:cap(first.Statements)]
+		for i := range memory {
+			memory[i] = labelled("changed", subject(variable("changed")))
+		}
+		checkProgram(t, "an earlier result", second, want)
+		checkProgram(t, "a later result", parsedProgram(t, source), want)
+	}
+}
+
+// TestValuesWithAnyFields calls the functions of values twice for values that need not be valid.
+func TestValuesWithAnyFields(t *testing.T) {
+	for _, v := range manyValues() {
+		equal := v
+		equal.Text = strings.Clone(v.Text)
+		checkEqual(t, "ValidValue", impl.ValidValue(equal), impl.ValidValue(v))
+		checkEqual(t, "SameValue", impl.SameValue(equal, v), true)
+		checkEqual(t, "IsNull", impl.IsNull(equal), impl.IsNull(v))
+		checkEqual(t, "IsReference", impl.IsReference(equal), impl.IsReference(v))
+		checkEqual(t, "DataType", impl.DataType(equal), impl.DataType(v))
+		checkEqual(t, "ValueText", impl.ValueText(equal), impl.ValueText(v))
+		checkEqual(t, "PrecedesValue", impl.PrecedesValue(equal, v), false)
+		first, ok := impl.IntegerValue(v.Num)
+		again, okAgain := impl.IntegerValue(v.Num)
+		checkEqual(t, "IntegerValue", again, first)
+		checkEqual(t, "IntegerValue: ok", okAgain, ok)
+	}
+	long := impl.Value{Kind: impl.VkPattern, Text: strings.Repeat("p", 1000000)}
+	checkEqual(t, "a long text", impl.ValueText(long)+impl.DataType(long), "")
 }
