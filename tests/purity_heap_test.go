@@ -2,6 +2,7 @@ package tests
 
 import (
 	"fmt"
+	"maps"
 	"math"
 	"slices"
 	"strings"
@@ -11,7 +12,7 @@ import (
 	"loop.example/g00873/impl"
 )
 
-// The tests of this file are promise 1 for the functions of chapters 7 and 8.
+// The tests of this file are promise 1 for the functions of chapters 7 to 9.
 
 // heapCase has arguments of the functions of heaps.
 type heapCase struct {
@@ -30,8 +31,15 @@ type heapResult struct {
 	rest string
 }
 
-// heapFunctions are all functions of chapters 7 and 8, with numbers for the arguments that a case does not have.
+// heapFunctions are all functions of chapters 7 to 9, with numbers for the arguments that a case does not have.
 func heapFunctions() map[string]func(c heapCase, n int64) heapResult {
+	functions := aggregateFunctions()
+	maps.Copy(functions, objectFunctions())
+	return functions
+}
+
+// objectFunctions are all functions of chapters 7 and 8.
+func objectFunctions() map[string]func(c heapCase, n int64) heapResult {
 	return map[string]func(c heapCase, n int64) heapResult{
 		"ValidObject": func(c heapCase, n int64) heapResult {
 			c.o.Id += n

@@ -13,7 +13,7 @@ import (
 // The tests of this file are promise 1: every function returns for all
 // arguments, modifies no argument and returns equal results for equal arguments.
 
-// textFunctions are all functions of chapters 1 to 6 with a text as their argument.
+// textFunctions are all functions of chapters 1 to 6 and 10 with a text as their argument.
 func textFunctions() map[string]func(s string) string {
 	labels, _, _ := impl.ParseProgram("A B;a B;L B;END")
 	return map[string]func(s string) string{
@@ -37,6 +37,12 @@ func textFunctions() map[string]func(s string) string {
 		"StringValue":     func(s string) string { return fmt.Sprint(impl.StringValue(s)) },
 		"QuoteText":       func(s string) string { return fmt.Sprintf("%q", impl.QuoteText(s)) },
 		"ReadValue":       func(s string) string { return fmt.Sprint(impl.ReadValue(s)) },
+		"TrimText":        func(s string) string { return fmt.Sprintf("%q", impl.TrimText(s)) },
+		"ReverseText":     func(s string) string { return fmt.Sprintf("%q", impl.ReverseText(s)) },
+		"TranslateText":   func(s string) string { return fmt.Sprint(impl.TranslateText(s, s[len(s)/2:], s[:len(s)-len(s)/2])) },
+		"PadText": func(s string) string {
+			return fmt.Sprint(impl.PadText(s, 7, " ", true)) + fmt.Sprint(impl.PadText("A", int64(len(s)), s, false))
+		},
 	}
 }
 
