@@ -350,6 +350,10 @@ func TestEntries(t *testing.T) {
 		{"two in the other order", ends(2), []impl.PatternEntry{entry("y", 1), entry("x", 2)}, true},
 		{"two that decrease", ends(2), []impl.PatternEntry{entry("x", 2), entry("y", 1)}, false},
 		{"two at the same address", ends(1), []impl.PatternEntry{entry("x", 1), entry("y", 1)}, false},
+		{"two of three at the same address", ends(2), []impl.PatternEntry{entry("x", 1), entry("y", 2), entry("z", 2)}, false},
+		{"two of three at the first address", ends(2), []impl.PatternEntry{entry("x", 1), entry("y", 1), entry("z", 2)}, false},
+		{"three, of which the last ones decrease", ends(3), []impl.PatternEntry{entry("x", 1), entry("y", 3), entry("z", 2)}, false},
+		{"three, of which the last one is before the first one", ends(3), []impl.PatternEntry{entry("x", 2), entry("y", 3), entry("z", 1)}, false},
 		{"two with the same name", ends(2), []impl.PatternEntry{entry("x", 1), entry("x", 2)}, false},
 		{"three, of which two have the same name", ends(3), []impl.PatternEntry{entry("x", 1), entry("y", 2), entry("x", 3)}, false},
 		{"names that differ in case", ends(2), []impl.PatternEntry{entry("x", 1), entry("X", 2)}, true},
@@ -586,6 +590,7 @@ func shortCode(list []impl.PatternIns, length int, visit func(code []impl.Patter
 
 // TestShortCodeAgainstModel has all short lists of instructions with all places of up to two entries.
 func TestShortCodeAgainstModel(t *testing.T) {
+	t.Parallel()
 	valid := 0
 	check := func(c impl.PatternCode) {
 		if checkCode(t, c) {

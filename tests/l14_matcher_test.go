@@ -1291,6 +1291,31 @@ func TestManyUncountedSteps(t *testing.T) {
 	c := readCode(t, text.String()+"loop 0; end")
 	checkNext(t, "paths with more and more choices", nextMatch(c, newMatcher(t, c, "", true), 20000), nextResult{m: impl.Matcher{Status: impl.MtDone, Anchored: true, Steps: 1}})
 
+	// The second path of each choice has as many choices as the first one.
+	text.Reset()
+	text.WriteString("step; mark; ")
+	for i := range 300 {
+		at := 3*i + 2
+		fmt.Fprintf(&text, "choice %d; jump %d; choice %d; ", at+2, at+3, at+3)
+	}
+	c = readCode(t, text.String()+"loop 0; end")
+	checkNext(t, "paths with as many choices", nextMatch(c, newMatcher(t, c, "a", true), 20000), nextResult{m: impl.Matcher{Status: impl.MtDone, Subject: "a", Anchored: true, Steps: 1}})
+
+	// Each path records a capture, so that each of them must be followed.
+	for count := range 9 {
+		text.Reset()
+		text.WriteString("step; mark; mark; ")
+		for i := range count {
+			fmt.Fprintf(&text, "choice %d; ", i+4)
+		}
+		c := readCode(t, text.String()+"now x; loop 0; end")
+		m := newMatcher(t, c, "", true)
+		r := nextMatch(c, m, 20000)
+		want, _ := modelNext(c, m, 20000, 100000)
+		checkNext(t, fmt.Sprint(count, " choices before a capture"), r, want)
+		checkEqual(t, "captures", len(r.m.Now), min(1<<count, 101))
+	}
+
 	// The same places are reached with so many choices that the limit is reached only later.
 	short := readCode(t, "choice 11; step; mark; choice 5; jump 9; choice 6; choice 7; choice 8; choice 9; choice 10; loop 1; end")
 	for missing := range 9 {

@@ -237,7 +237,8 @@ func (f *follower) follow(compacts func(step int) bool) []impl.Matcher {
 }
 
 // checkRuns checks that running from each of some states leads to the next
-// state with a match or an end, or to the one in which the fuel is used up.
+// state with a match or an end, or to the one in which the fuel is used up, also
+// if it is compacted before.
 func (f *follower) checkRuns(states []impl.Matcher) {
 	f.Helper()
 	goal := len(states) - 1
@@ -254,6 +255,10 @@ func (f *follower) checkRuns(states []impl.Matcher) {
 			want.code = impl.ErrSteps
 		}
 		checkNext(f.T, f.what, r, want)
+		small, _ := impl.CompactMatcher(f.c, m)
+		again := nextMatch(f.c, small, int64(f.d.limit))
+		r.m, again.m = modelCompacted(r.m), modelCompacted(again.m)
+		checkNext(f.T, f.what+": from a compacted matcher", again, r)
 		if m.Status == impl.MtFound {
 			goal = i
 		}
@@ -317,6 +322,7 @@ func allFuels(limit int) []int64 {
 
 // TestSmallPatternsInMatcher is promises 19 and 20 for all patterns of up to three nodes, and for nodes above these.
 func TestSmallPatternsInMatcher(t *testing.T) {
+	t.Parallel()
 	env := smallEnv(t)
 	leaves := smallLeaves()
 	small := aboveAll(leaves)
@@ -361,6 +367,7 @@ func TestSmallPatternsInMatcher(t *testing.T) {
 
 // TestRandomPatternsInMatcher is promises 19 and 20 for random patterns.
 func TestRandomPatternsInMatcher(t *testing.T) {
+	t.Parallel()
 	source := narrowPatterns(111)
 	codes := map[int64]int{}
 	captures, shared := 0, 0
@@ -434,15 +441,17 @@ func chosenPatterns(t *testing.T) ([]impl.Named, []string) {
 	}
 }
 
-// TestChosenPatternsInMatcher is promises 19 and 20 for chosen patterns, with all amounts of fuel.
+// TestChosenPatternsInMatcher is promises 19 and 20 for chosen patterns.
 func TestChosenPatternsInMatcher(t *testing.T) {
+	t.Parallel()
 	env, list := chosenPatterns(t)
 	for _, text := range list {
 		p := readPattern(t, text)
 		for _, subject := range []string{"", "a", "ab", "aab", "(a)b", "((a))a"} {
 			for _, anchored := range []bool{true, false} {
 				d := checkFollowed(t, env, p, subject, anchored, 150)
-				checkFuels(t, d, p, anchored, allFuels(150))
+				steps := int64(len(d.steps))
+				checkFuels(t, d, p, anchored, append(allFuels(40), max(steps-1, 0), steps, min(steps+1, 150), 150))
 			}
 		}
 	}
@@ -450,6 +459,7 @@ func TestChosenPatternsInMatcher(t *testing.T) {
 
 // TestMatchesOneAfterTheOther is promise 20: the successive matches are all matches, with as many steps as the model counts.
 func TestMatchesOneAfterTheOther(t *testing.T) {
+	t.Parallel()
 	env, list := chosenPatterns(t)
 	found, finished := 0, 0
 	check := func(env []impl.Named, p impl.Pattern, subject string, anchored, compacts bool) {
@@ -661,6 +671,7 @@ func (s stateMaker) onTheWay(c impl.PatternCode, m impl.Matcher, steps int) impl
 
 // TestHandMadeMatchersAgainstModel is promise 20 for matchers and code that no compilation and no step makes.
 func TestHandMadeMatchersAgainstModel(t *testing.T) {
+	t.Parallel()
 	maker := stateMaker{narrowPatterns(114)}
 	counts := map[string]int{}
 	for i := range 12000 {
@@ -741,6 +752,7 @@ func TestLongRunsInMatcher(t *testing.T) {
 
 // TestRandomCodeInMatcher has pattern code that is made of random instructions.
 func TestRandomCodeInMatcher(t *testing.T) {
+	t.Parallel()
 	source := rand.New(rand.NewSource(117))
 	runs := 0
 	for range 150000 {

@@ -243,6 +243,7 @@ func wholeCase(c matcherCase) matcherCase {
 }
 
 func TestMatcherFunctionsArePure(t *testing.T) {
+	t.Parallel()
 	cases := matcherCases(t)
 	for what, call := range matcherFunctions() {
 		for i, c := range cases {
@@ -304,6 +305,7 @@ func (m patternMemory) addMatcherResult(r matcherResult) bool {
 
 // TestResultsOfMatcherFunctionsAreNew checks that all lists of results share no memory with each other or with arguments.
 func TestResultsOfMatcherFunctionsAreNew(t *testing.T) {
+	t.Parallel()
 	elements := map[string]int{}
 	cases := matcherCases(t)
 	for what, call := range matcherFunctions() {
