@@ -5,7 +5,6 @@ import (
 	"math"
 	"slices"
 	"strings"
-	"sync"
 	"testing"
 
 	"loop.example/g00873/impl"
@@ -135,29 +134,6 @@ func roomyBuiltinCase(c builtinCase) builtinCase {
 	return c
 }
 
-// watcher remembers lists with the unused elements behind them, to tell whether they were modified.
-type watcher struct {
-	unchanged []func() bool
-}
-
-func watch[T any](w *watcher, list []T, same func(a, b T) bool) {
-	list = list[:cap(list)]
-	before := slices.Clone(list)
-	w.unchanged = append(w.unchanged, func() bool { return slices.EqualFunc(list, before, same) })
-}
-
-func sameElement[T comparable](a, b T) bool {
-	return a == b
-}
-
-func (w *watcher) watchHeap(h impl.Heap) {
-	watch(w, h.Objects, sameLists)
-	for _, o := range h.Objects {
-		watch(w, o.Keys, sameElement)
-		watch(w, o.Vals, sameElement)
-	}
-}
-
 func (w *watcher) watchConsole(c impl.Console) {
 	for _, list := range [][]string{c.Input, c.Output, c.Trace} {
 		watch(w, list, sameElement)
@@ -168,65 +144,23 @@ func (w *watcher) watchConsole(c impl.Console) {
 	}
 }
 
-func (w *watcher) watchPattern(p impl.Pattern) {
-	watch(w, p.Kids, samePatternMemory)
-	for _, kid := range p.Kids {
-		w.watchPattern(kid)
-	}
-}
-
-func (w *watcher) isUnchanged() bool {
-	for _, is := range w.unchanged {
-		if !is() {
-			return false
-		}
-	}
-	return true
-}
-
-func watchBuiltinCase(c builtinCase) *watcher {
-	w := &watcher{}
+func watchBuiltinCase(w *watcher, c builtinCase) {
 	w.watchHeap(c.h)
 	w.watchConsole(c.c)
 	w.watchPattern(c.p)
 	watch(w, c.args, sameElement)
-	return w
 }
 
-func TestBuiltinFunctionsArePure(t *testing.T) {
-	cases := builtinCases()
-	for what, call := range builtinFunctions() {
-		for i, c := range cases {
-			roomy := roomyBuiltinCase(c)
-			w := watchBuiltinCase(roomy)
-			first := call(roomy)
-			if !equalBuiltinResults(call(roomy), first) || !equalBuiltinResults(call(copyBuiltinCase(c)), first) || !equalBuiltinResults(call(c), first) {
-				t.Errorf("%s: another result for case %d: %.500q", what, i, fmt.Sprint(c))
-			}
-			if !w.isUnchanged() {
-				t.Errorf("%s modified its arguments: case %d: %.500q", what, i, fmt.Sprint(c))
-			}
-		}
+// turnedBuiltinCase returns an equal case with nil for each empty list, and an empty list for each nil.
+func turnedBuiltinCase(c builtinCase) builtinCase {
+	c.h = emptied(heapCase{h: c.h}).h
+	c.p = otherEmptyPattern(c.p)
+	c.args = otherEmpty(c.args)
+	c.c.Input, c.c.Output, c.c.Trace, c.c.Files = otherEmpty(c.c.Input), otherEmpty(c.c.Output), otherEmpty(c.c.Trace), otherEmpty(c.c.Files)
+	for i, f := range c.c.Files {
+		c.c.Files[i].Lines = otherEmpty(f.Lines)
 	}
-}
-
-func TestNilAndEmptyListsOfBuiltinsAreEquivalent(t *testing.T) {
-	cases := builtinCases()
-	for what, call := range builtinFunctions() {
-		for i, c := range cases {
-			other := copyBuiltinCase(c)
-			other.h = emptied(heapCase{h: c.h}).h
-			other.p = otherEmptyPattern(other.p)
-			other.args = otherEmpty(other.args)
-			other.c.Input, other.c.Output, other.c.Trace, other.c.Files = otherEmpty(other.c.Input), otherEmpty(other.c.Output), otherEmpty(other.c.Trace), otherEmpty(other.c.Files)
-			for k, f := range other.c.Files {
-				other.c.Files[k].Lines = otherEmpty(f.Lines)
-			}
-			if !equalBuiltinResults(call(c), call(other)) {
-				t.Errorf("%s: another result for case %d: %.500q", what, i, fmt.Sprint(c))
-			}
-		}
-	}
+	return c
 }
 
 // addHeap, addConsole and addBuiltinResult add the memory of lists, and report whether none of it was there before.
@@ -260,66 +194,43 @@ func (m patternMemory) addBuiltinResult(r builtinResult) bool {
 	return fresh
 }
 
-// TestResultsOfBuiltinFunctionsAreNew checks that all lists of results share no memory with each other or with arguments.
-func TestResultsOfBuiltinFunctionsAreNew(t *testing.T) {
-	t.Parallel()
-	elements := map[string]int{}
-	cases := builtinCases()
-	for what, call := range builtinFunctions() {
-		for i, c := range cases {
-			for _, c := range []builtinCase{c, roomyBuiltinCase(c)} {
-				memory := patternMemory{}
-				memory.addHeap(c.h)
-				memory.addConsole(c.c)
-				memory.addPattern(c.p)
-				isNew(memory, c.args)
-				before := len(memory)
-				if !memory.addBuiltinResult(call(c)) || !memory.addBuiltinResult(call(c)) {
-					t.Errorf("%s: results share memory: case %d: %.500q", what, i, fmt.Sprint(c))
-				}
-				elements[what] += len(memory) - before
-			}
-		}
+func (m patternMemory) addBuiltinCase(c builtinCase) {
+	m.addHeap(c.h)
+	m.addConsole(c.c)
+	m.addPattern(c.p)
+	isNew(m, c.args)
+}
+
+func overwriteBuiltinResult(r builtinResult) {
+	changed := impl.Value{Kind: 77, Text: "changed"}
+	for _, o := range r.heap.Objects {
+		overwriteAll(o.Keys, changed)
+		overwriteAll(o.Vals, changed)
 	}
-	for what, least := range map[string]int{"BuiltinNames": 10000, "ToPattern": 1000, "CallPattern": 30, "CallHeap": 3000, "CallBuiltin": 100000} {
-		if elements[what] < least {
-			t.Errorf("%s: only %d elements were returned", what, elements[what])
-		}
+	overwriteAll(r.heap.Objects, recordWith(77, "changed"))
+	for _, f := range r.console.Files {
+		overwriteAll(f.Lines, "changed")
+	}
+	overwriteAll(r.console.Files, impl.File{Name: "changed"})
+	for _, list := range [][]string{r.console.Input, r.console.Output, r.console.Trace, r.names} {
+		overwriteAll(list, "changed")
+	}
+	memory := lists{}
+	for _, p := range append(r.patterns, r.p) {
+		memory.addPattern(p)
+	}
+	for _, list := range memory.patterns {
+		overwrite(list, texted(77, "changed"))
 	}
 }
 
-// TestBuiltinResultsAreCopies changes what was returned, and calls the functions again.
-func TestBuiltinResultsAreCopies(t *testing.T) {
-	cases := builtinCases()
-	changed := impl.Value{Kind: 77, Text: "changed"}
-	for what, call := range builtinFunctions() {
-		for i, c := range cases {
-			want := call(copyBuiltinCase(c))
-			got := call(c)
-			for _, o := range got.heap.Objects {
-				overwrite(o.Keys[:cap(o.Keys)], changed)
-				overwrite(o.Vals[:cap(o.Vals)], changed)
-			}
-			overwrite(got.heap.Objects[:cap(got.heap.Objects)], recordWith(77, "changed"))
-			for _, f := range got.console.Files {
-				overwrite(f.Lines[:cap(f.Lines)], "changed")
-			}
-			overwrite(got.console.Files[:cap(got.console.Files)], impl.File{Name: "changed"})
-			for _, list := range [][]string{got.console.Input, got.console.Output, got.console.Trace, got.names} {
-				overwrite(list[:cap(list)], "changed")
-			}
-			memory := lists{}
-			for _, p := range append(got.patterns, got.p) {
-				memory.addPattern(p)
-			}
-			for _, list := range memory.patterns {
-				overwrite(list, texted(77, "changed"))
-			}
-			if !equalBuiltinResults(call(c), want) {
-				t.Errorf("%s: another result for case %d: %.500q", what, i, fmt.Sprint(c))
-			}
-		}
+func TestBuiltinFunctionsArePure(t *testing.T) {
+	p := purity[builtinCase, builtinResult]{
+		functions: builtinFunctions(), cases: builtinCases(), equal: equalBuiltinResults,
+		copied: copyBuiltinCase, roomy: roomyBuiltinCase, turned: turnedBuiltinCase, watch: watchBuiltinCase,
+		addCase: patternMemory.addBuiltinCase, addResult: patternMemory.addBuiltinResult, overwrite: overwriteBuiltinResult,
 	}
+	p.checkAll(t, map[string]int{"BuiltinNames": 10000, "ToPattern": 1000, "CallPattern": 30, "CallHeap": 3000, "CallBuiltin": 100000})
 }
 
 // TestFailuresOfBuiltinFunctions checks that nothing but the code is left of a call with an error, and no value of a function that fails.
@@ -364,27 +275,5 @@ func TestBuiltinFunctionsWithVeryLargeArguments(t *testing.T) {
 				}
 			}
 		}
-	}
-}
-
-// TestBuiltinFunctionsDoNotDependOnOtherCalls runs the calls in several goroutines at the same time, with the same arguments.
-func TestBuiltinFunctionsDoNotDependOnOtherCalls(t *testing.T) {
-	cases := builtinCases()
-	for what, call := range builtinFunctions() {
-		var want []builtinResult
-		for _, c := range cases {
-			want = append(want, call(c))
-		}
-		var group sync.WaitGroup
-		for range 4 {
-			group.Go(func() {
-				for i := range slices.Backward(cases) {
-					if !equalBuiltinResults(call(cases[i]), want[i]) {
-						t.Errorf("%s: another result for case %d", what, i)
-					}
-				}
-			})
-		}
-		group.Wait()
 	}
 }

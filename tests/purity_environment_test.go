@@ -5,7 +5,6 @@ import (
 	"math"
 	"slices"
 	"strings"
-	"sync"
 	"testing"
 
 	"loop.example/g00873/impl"
@@ -133,8 +132,7 @@ func roomyScopeCase(c scopeCase) scopeCase {
 	return c
 }
 
-func watchScopeCase(c scopeCase) *watcher {
-	w := &watcher{}
+func watchScopeCase(w *watcher, c scopeCase) {
 	watch(w, c.s.Vars, sameElement)
 	watch(w, c.s.Functions, func(a, b impl.Function) bool {
 		return equalFunctions(a, b) && isSame(a.Params, b.Params) && isSame(a.Locals, b.Locals)
@@ -150,44 +148,19 @@ func watchScopeCase(c scopeCase) *watcher {
 	watch(w, c.names, sameElement)
 	watch(w, c.saved, sameElement)
 	watch(w, c.roots, sameElement)
-	return w
 }
 
-func TestScopeFunctionsArePure(t *testing.T) {
-	cases := scopeCases()
-	for what, call := range scopeFunctions() {
-		for i, c := range cases {
-			roomy := roomyScopeCase(c)
-			w := watchScopeCase(roomy)
-			first := call(roomy)
-			if !equalScopeResults(call(roomy), first) || !equalScopeResults(call(copyScopeCase(c)), first) || !equalScopeResults(call(c), first) {
-				t.Errorf("%s: another result for case %d: %.500q", what, i, fmt.Sprint(c))
-			}
-			if !w.isUnchanged() {
-				t.Errorf("%s modified its arguments: case %d: %.500q", what, i, fmt.Sprint(c))
-			}
-		}
+// turnedScopeCase returns an equal case with nil for each empty list, and an empty list for each nil.
+func turnedScopeCase(c scopeCase) scopeCase {
+	c.s.Vars, c.s.Functions, c.s.Types = otherEmpty(c.s.Vars), otherEmpty(c.s.Functions), otherEmpty(c.s.Types)
+	for i, f := range c.s.Functions {
+		c.s.Functions[i].Params, c.s.Functions[i].Locals = otherEmpty(f.Params), otherEmpty(f.Locals)
 	}
-}
-
-func TestNilAndEmptyListsOfScopesAreEquivalent(t *testing.T) {
-	cases := scopeCases()
-	for what, call := range scopeFunctions() {
-		for i, c := range cases {
-			other := copyScopeCase(c)
-			other.s.Vars, other.s.Functions, other.s.Types = otherEmpty(other.s.Vars), otherEmpty(other.s.Functions), otherEmpty(other.s.Types)
-			for k, f := range other.s.Functions {
-				other.s.Functions[k].Params, other.s.Functions[k].Locals = otherEmpty(f.Params), otherEmpty(f.Locals)
-			}
-			for k, r := range other.s.Types {
-				other.s.Types[k].Fields = otherEmpty(r.Fields)
-			}
-			other.names, other.saved, other.roots = otherEmpty(other.names), otherEmpty(other.saved), otherEmpty(other.roots)
-			if !equalScopeResults(call(c), call(other)) {
-				t.Errorf("%s: another result for case %d: %.500q", what, i, fmt.Sprint(c))
-			}
-		}
+	for i, r := range c.s.Types {
+		c.s.Types[i].Fields = otherEmpty(r.Fields)
 	}
+	c.names, c.saved, c.roots = otherEmpty(c.names), otherEmpty(c.saved), otherEmpty(c.roots)
+	return c
 }
 
 // addScope and addScopeResult add the memory of lists, and report whether none of it was there before.
@@ -217,62 +190,42 @@ func (m patternMemory) addScopeResult(r scopeResult) bool {
 	return isNew(m, r.roots) && fresh
 }
 
-// TestResultsOfScopeFunctionsAreNew checks that all lists of results share no memory with each other or with arguments.
-func TestResultsOfScopeFunctionsAreNew(t *testing.T) {
-	t.Parallel()
-	elements := map[string]int{}
-	cases := scopeCases()
-	for what, call := range scopeFunctions() {
-		for i, c := range cases {
-			if i%2 == 1 {
-				c = roomyScopeCase(c)
-			}
-			memory := patternMemory{}
-			memory.addScope(c.s)
-			isNew(memory, c.names)
-			isNew(memory, c.saved)
-			isNew(memory, c.roots)
-			before := len(memory)
-			if !memory.addScopeResult(call(c)) || !memory.addScopeResult(call(c)) {
-				t.Errorf("%s: results share memory: case %d: %.500q", what, i, fmt.Sprint(c))
-			}
-			elements[what] += len(memory) - before
-		}
-	}
-	for _, what := range []string{"Assign", "DefineFunction", "DefineFunction again", "FunctionOf", "DefineType", "DefineType again", "TypeOf", "SaveNames", "RestoreNames", "ScopeRoots", "WithRoots"} {
-		if elements[what] < 50 {
-			t.Errorf("%s: only %d elements were returned", what, elements[what])
-		}
-	}
+func (m patternMemory) addScopeCase(c scopeCase) {
+	m.addScope(c.s)
+	isNew(m, c.names)
+	isNew(m, c.saved)
+	isNew(m, c.roots)
 }
 
-// TestScopeResultsAreCopies changes what was returned, and calls the functions again.
-func TestScopeResultsAreCopies(t *testing.T) {
-	cases := scopeCases()
-	for what, call := range scopeFunctions() {
-		for i, c := range cases {
-			want := call(copyScopeCase(c))
-			got := call(c)
-			texts := [][]string{got.f.Params, got.f.Locals, got.r.Fields}
-			for _, f := range got.s.Functions {
-				texts = append(texts, f.Params, f.Locals)
-			}
-			for _, r := range got.s.Types {
-				texts = append(texts, r.Fields)
-			}
-			for _, list := range texts {
-				overwrite(list[:cap(list)], "changed")
-			}
-			overwrite(got.s.Vars[:cap(got.s.Vars)], binding("changed", impl.Value{}))
-			overwrite(got.s.Functions[:cap(got.s.Functions)], function("changed", "", nil, nil))
-			overwrite(got.s.Types[:cap(got.s.Types)], recordType("changed"))
-			overwrite(got.saved[:cap(got.saved)], binding("changed", impl.Value{}))
-			overwrite(got.roots[:cap(got.roots)], integerOf(77))
-			if !equalScopeResults(call(c), want) {
-				t.Errorf("%s: another result for case %d: %.500q", what, i, fmt.Sprint(c))
-			}
-		}
+func overwriteScopeResult(r scopeResult) {
+	texts := [][]string{r.f.Params, r.f.Locals, r.r.Fields}
+	for _, f := range r.s.Functions {
+		texts = append(texts, f.Params, f.Locals)
 	}
+	for _, x := range r.s.Types {
+		texts = append(texts, x.Fields)
+	}
+	for _, list := range texts {
+		overwriteAll(list, "changed")
+	}
+	overwriteAll(r.s.Vars, binding("changed", impl.Value{}))
+	overwriteAll(r.s.Functions, function("changed", "", nil, nil))
+	overwriteAll(r.s.Types, recordType("changed"))
+	overwriteAll(r.saved, binding("changed", impl.Value{}))
+	overwriteAll(r.roots, integerOf(77))
+}
+
+func TestScopeFunctionsArePure(t *testing.T) {
+	p := purity[scopeCase, scopeResult]{
+		functions: scopeFunctions(), cases: scopeCases(), equal: equalScopeResults,
+		copied: copyScopeCase, roomy: roomyScopeCase, turned: turnedScopeCase, watch: watchScopeCase,
+		addCase: patternMemory.addScopeCase, addResult: patternMemory.addScopeResult, overwrite: overwriteScopeResult,
+	}
+	least := map[string]int{}
+	for _, name := range []string{"Assign", "DefineFunction", "DefineFunction again", "FunctionOf", "DefineType", "DefineType again", "TypeOf", "SaveNames", "RestoreNames", "ScopeRoots", "WithRoots"} {
+		least[name] = 100
+	}
+	p.checkAll(t, least)
 }
 
 // TestFailuresOfScopeFunctions checks that nothing but the code is left of a call that fails.
@@ -329,27 +282,5 @@ func TestScopeFunctionsWithVeryLargeArguments(t *testing.T) {
 				}
 			}
 		}
-	}
-}
-
-// TestScopeFunctionsDoNotDependOnOtherCalls runs the calls in several goroutines at the same time, with the same arguments.
-func TestScopeFunctionsDoNotDependOnOtherCalls(t *testing.T) {
-	cases := scopeCases()
-	for what, call := range scopeFunctions() {
-		var want []scopeResult
-		for _, c := range cases {
-			want = append(want, call(c))
-		}
-		var group sync.WaitGroup
-		for range 4 {
-			group.Go(func() {
-				for i := range slices.Backward(cases) {
-					if !equalScopeResults(call(cases[i]), want[i]) {
-						t.Errorf("%s: another result for case %d", what, i)
-					}
-				}
-			})
-		}
-		group.Wait()
 	}
 }
