@@ -98,12 +98,12 @@ func TestConsolesAgainstModel(t *testing.T) {
 		}
 		checkCall(t, what, calledAny(impl.CallBuiltin(impl.Heap{}, c, "SIZE", valuesOf("ab"))), want)
 	}
-	starts := append(validConsoles(), invalidConsoles()...)
-	for _, x := range starts {
+	starts := validConsoles()
+	for _, x := range append(starts, invalidConsoles()...) {
 		check(x.what, x.c)
 	}
 	for i := range 30000 {
-		x := validConsoles()[i%13]
+		x := starts[i%len(starts)]
 		c := x.c
 		for range 1 + r.Intn(3) {
 			c = changedConsole(r, c)
@@ -175,8 +175,9 @@ func (s *callSeries) keep(v impl.Value) {
 // TestCallsLeaveValidHeaps is the first part of promise 23.
 func TestCallsLeaveValidHeaps(t *testing.T) {
 	codes, given := map[int64]int{}, map[int64]int{}
+	consoles := validConsoles()
 	for i := range 100 {
-		h, c := impl.Heap{}, validConsoles()[i%13].c
+		h, c := impl.Heap{}, consoles[i%len(consoles)].c
 		s := callSeries{Rand: rand.New(rand.NewSource(int64(174 + i))), usual: valuesOf("", "a", "ab ", 1, 2, "3", patternOf("rem"), nameOf("X"), deferOf("X"))}
 		for range 400 {
 			name, args := s.call()
@@ -207,7 +208,7 @@ func TestCallsLeaveValidHeaps(t *testing.T) {
 	}
 }
 
-// TestCallsOfTablesAgree checks that CallBuiltin does what the function of the table does, with the values of series of calls.
+// TestCallsOfTablesAgree checks that CallBuiltin does what the function of the table does, for random heaps.
 func TestCallsOfTablesAgree(t *testing.T) {
 	r := rand.New(rand.NewSource(175))
 	m := heapMaker{r}

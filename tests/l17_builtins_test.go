@@ -208,16 +208,16 @@ func TestInteger(t *testing.T) {
 	}
 }
 
-// stringRow is a call of a function with its result: a text, a number, an error
-// code behind a minus sign, or nothing for a function that fails.
+// fault is an error code as the result of a row.
+type fault int64
+
+// stringRow is a call of a function with its result: a text, a number, a fault,
+// or nil for a function that fails.
 type stringRow struct {
 	name   string
 	args   []impl.Value
 	result any
 }
-
-// fault marks a number as an error code.
-type fault int64
 
 func checkStringRows(t *testing.T, rows []stringRow) {
 	t.Helper()
@@ -226,7 +226,7 @@ func checkStringRows(t *testing.T, rows []stringRow) {
 		switch x := row.result.(type) {
 		case fault:
 			want = faulted(int64(x))
-		case string, int, impl.Value:
+		case string, int:
 			want = gave(valuesOf(x)[0])
 		}
 		checkBuiltin(t, exampleHeap(), row.name, row.args, want)
