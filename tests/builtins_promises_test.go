@@ -222,7 +222,7 @@ func TestCallsOfTablesAgree(t *testing.T) {
 			args = append(args, append(valuesOf(r.Intn(5), "abc", patternOf("arb")), m.value(h.Objects))[r.Intn(4)])
 		}
 		want := asBuiltin(h, impl.Console{}, table, callTable(table, h, name, args))
-		checkCall(t, fmt.Sprintf("%s with %.200q", name, fmt.Sprint(args)), calledAny(impl.CallBuiltin(h, impl.Console{}, name, args)), want)
+		checkCallWith(t, name, args, calledAny(impl.CallBuiltin(h, impl.Console{}, name, args)), want)
 	}
 }
 

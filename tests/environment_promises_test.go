@@ -73,11 +73,13 @@ func checkOthers(t *testing.T, what string, names []string, before, after impl.S
 		if name != variable && (v != old || code != impl.OK) {
 			t.Errorf("%s: the variable %s: %+v instead of %+v", what, name, v, old)
 		}
-		if name != isFunction {
-			checkScopeResult(t, what+": the function "+name, foundFunction(impl.FunctionOf(after, name)), foundFunction(impl.FunctionOf(before, name)))
+		f, g := foundFunction(impl.FunctionOf(before, name)), foundFunction(impl.FunctionOf(after, name))
+		if name != isFunction && !equalScopeResults(f, g) {
+			t.Errorf("%s: the function %s: %+v instead of %+v", what, name, g.f, f.f)
 		}
-		if name != isType {
-			checkScopeResult(t, what+": the type "+name, foundType(impl.TypeOf(after, name)), foundType(impl.TypeOf(before, name)))
+		f, g = foundType(impl.TypeOf(before, name)), foundType(impl.TypeOf(after, name))
+		if name != isType && !equalScopeResults(f, g) {
+			t.Errorf("%s: the type %s: %+v instead of %+v", what, name, g.r, f.r)
 		}
 	}
 }
@@ -87,9 +89,9 @@ func TestAssignedValuesAreRead(t *testing.T) {
 	t.Parallel()
 	source := newScopeSource(191)
 	codes := map[int64]int{}
-	for range 40 {
+	for range 25 {
 		s := source.scope()
-		for range 150 {
+		for range 120 {
 			name, v := source.name(), source.value()
 			changed, code := impl.Assign(s, name, v)
 			codes[code]++
@@ -106,7 +108,7 @@ func TestAssignedValuesAreRead(t *testing.T) {
 			s = changed
 		}
 	}
-	if codes[impl.OK] < 3000 || codes[impl.ErrFull] < 100 {
+	if codes[impl.OK] < 2000 || codes[impl.ErrFull] < 50 {
 		t.Errorf("%v codes", codes)
 	}
 }

@@ -514,7 +514,7 @@ func TestInvalidArguments(t *testing.T) {
 					if k%3 == 0 {
 						args = append(args, good...)
 					}
-					checkCall(t, fmt.Sprintf("%.20s in %s with %.100q", name, table, fmt.Sprint(args)), call(name, args), faulted(impl.ErrInvalid))
+					checkCallWith(t, name, args, call(name, args), faulted(impl.ErrInvalid))
 				}
 			}
 			many := append(slices.Repeat(valuesOf(1), 10000), impl.Value{})
@@ -578,11 +578,10 @@ func TestMissingArguments(t *testing.T) {
 				args := []impl.Value{first, second, stringOf("")}[:len(row.params)]
 				for given := range args {
 					padded := append(slices.Clone(args[:given]), slices.Repeat(valuesOf(""), len(args)-given)...)
-					what := fmt.Sprintf("%s with %d arguments of %q", name, given, fmt.Sprint(args))
 					if row.table != ofFiles {
-						checkCall(t, what, callTable(row.table, h, name, args[:given]), callTable(row.table, h, name, padded))
+						checkCallWith(t, name, args[:given], callTable(row.table, h, name, args[:given]), callTable(row.table, h, name, padded))
 					}
-					checkCall(t, "CallBuiltin: "+what, calledAny(impl.CallBuiltin(h, c, name, args[:given])), calledAny(impl.CallBuiltin(h, c, name, padded)))
+					checkCallWith(t, "CallBuiltin: "+name, args[:given], calledAny(impl.CallBuiltin(h, c, name, args[:given])), calledAny(impl.CallBuiltin(h, c, name, padded)))
 					lists++
 				}
 			}
@@ -644,13 +643,11 @@ func TestBuiltinsAgainstModel(t *testing.T) {
 	t.Parallel()
 	values := argumentValues()
 	lists := [][]impl.Value{nil}
-	for _, v := range values {
+	for i, v := range values {
 		lists = append(lists, valuesOf(v))
-		for _, w := range values {
-			lists = append(lists, valuesOf(v, w))
-			for _, s := range []string{"", "abcba", strings.Repeat("x", 200)} {
-				lists = append(lists, valuesOf(s, v, w))
-			}
+		for k, w := range values {
+			s := []string{"abcba", "", strings.Repeat("x", 200)}[(i+k)%5%3]
+			lists = append(lists, valuesOf(v, w), valuesOf(s, v, w))
 		}
 		lists = append(lists, valuesOf(v, 1, 2, 3), valuesOf(1, "a", v, "b", 2, 3, 4))
 	}
@@ -667,12 +664,12 @@ func TestBuiltinsAgainstModel(t *testing.T) {
 					continue
 				}
 				want := modelCall(table, h, name, args)
-				checkCall(t, fmt.Sprintf("%s in %s with %.200q", name, table, fmt.Sprint(args)), callTable(table, h, name, args), want)
+				checkCallWith(t, name, args, callTable(table, h, name, args), want)
 				if builtinRows[name].table == table {
 					outcomes[fmt.Sprint(name, want.code, want.succeeds)]++
 				}
 			}
-			checkCall(t, fmt.Sprintf("CallBuiltin: %s with %.200q", name, fmt.Sprint(args)), calledAny(impl.CallBuiltin(h, c, name, args)), modelBuiltin(h, c, name, args))
+			checkCallWith(t, "CallBuiltin: "+name, args, calledAny(impl.CallBuiltin(h, c, name, args)), modelBuiltin(h, c, name, args))
 		}
 	}
 	if len(outcomes) < 150 {
@@ -698,7 +695,7 @@ func TestBuiltinsWithRandomArguments(t *testing.T) {
 			args[2] = stringOf(impl.ReverseText(args[1].Text))
 		}
 		want := modelBuiltin(h, impl.Console{}, name, args)
-		checkCall(t, fmt.Sprintf("CallBuiltin: %s with %.200q", name, fmt.Sprint(args)), calledAny(impl.CallBuiltin(h, impl.Console{}, name, args)), want)
+		checkCallWith(t, "CallBuiltin: "+name, args, calledAny(impl.CallBuiltin(h, impl.Console{}, name, args)), want)
 		outcomes[fmt.Sprint(want.code, want.succeeds)]++
 	}
 	for what, least := range map[string]int{"0 true": 5000, "0 false": 1000, "1 false": 100, "3 false": 500, "4 false": 1000} {
@@ -723,7 +720,7 @@ func TestBuiltinsWithStrangeArguments(t *testing.T) {
 	for _, name := range withoutFiles() {
 		for _, v := range values {
 			for _, args := range [][]impl.Value{{v}, {arrayRef(1), v}, {v, v, v}} {
-				checkCall(t, fmt.Sprintf("%s with %.100q", name, fmt.Sprint(args)), calledAny(impl.CallBuiltin(h, impl.Console{}, name, args)), modelBuiltin(h, impl.Console{}, name, args))
+				checkCallWith(t, name, args, calledAny(impl.CallBuiltin(h, impl.Console{}, name, args)), modelBuiltin(h, impl.Console{}, name, args))
 			}
 		}
 	}

@@ -456,7 +456,7 @@ func TestScopesAgainstModel(t *testing.T) {
 		}
 		isValid := modelScope(s)
 		counts[isValid]++
-		what := fmt.Sprintf("%.300q", fmt.Sprint(s))
+		what := fmt.Sprint("case ", i)
 		checkEqual(t, what, impl.ValidScope(s), isValid)
 		name, v := []string{"A", "B", "N001", "X", "1"}[r.Intn(5)], valuesOf("", 1, "x", impl.Value{})[r.Intn(4)]
 		checkScopeResult(t, what, lookedUp(impl.Lookup(s, name)), modelLookup(s, name))

@@ -230,7 +230,7 @@ func TestBuiltinFunctionsArePure(t *testing.T) {
 		copied: copyBuiltinCase, roomy: roomyBuiltinCase, turned: turnedBuiltinCase, watch: watchBuiltinCase,
 		addCase: patternMemory.addBuiltinCase, addResult: patternMemory.addBuiltinResult, overwrite: overwriteBuiltinResult,
 	}
-	p.checkAll(t, map[string]int{"BuiltinNames": 10000, "ToPattern": 1000, "CallPattern": 30, "CallHeap": 3000, "CallBuiltin": 100000})
+	p.checkAll(t, map[string]int{"BuiltinNames": 10000, "ToPattern": 500, "CallPattern": 20, "CallHeap": 1500, "CallBuiltin": 50000})
 }
 
 // TestFailuresOfBuiltinFunctions checks that nothing but the code is left of a call with an error, and no value of a function that fails.

@@ -80,7 +80,7 @@ func scopeCases() []scopeCase {
 		Functions: []impl.Function{function("F", "F", names[:1], names[1:]), function("G", "F", names, nil), function("H", "F", names, names[3:])},
 		Types:     []impl.RecordType{recordType("F", names...), recordType("G", names...), recordType("H", names[1:]...)},
 	}
-	scopes := append(validScopes(), namedScope{"shared memory", shared}, namedScope{"a full scope again", fullScope()}, namedScope{"the example again", exampleScope()}, namedScope{"shared memory again", shared})
+	scopes := append(validScopes(), namedScope{"shared memory", shared}, namedScope{"the example again", exampleScope()}, namedScope{"shared memory again", shared})
 	saved := []impl.Binding{binding("A", integerOf(5)), binding("AB", stringOf("x")), binding("N003", stringOf("")), binding("Z", nameOf("A")), binding("A", integerOf(6))}
 	var cases []scopeCase
 	add := func(s impl.Scope, text string) {
@@ -223,7 +223,7 @@ func TestScopeFunctionsArePure(t *testing.T) {
 	}
 	least := map[string]int{}
 	for _, name := range []string{"Assign", "DefineFunction", "DefineFunction again", "FunctionOf", "DefineType", "DefineType again", "TypeOf", "SaveNames", "RestoreNames", "ScopeRoots", "WithRoots"} {
-		least[name] = 100
+		least[name] = 50
 	}
 	p.checkAll(t, least)
 }

@@ -100,15 +100,16 @@ func (p purity[C, R]) checkNewMemory(t *testing.T, least map[string]int) {
 	elements := map[string]int{}
 	for name, call := range p.functions {
 		for i, c := range p.cases {
-			for _, c := range []C{c, p.roomy(c)} {
-				memory := patternMemory{}
-				p.addCase(memory, c)
-				before := len(memory)
-				if !p.addResult(memory, call(c)) || !p.addResult(memory, call(c)) {
-					t.Errorf("%s, case %d: results share memory: %.500q", name, i, fmt.Sprint(c))
-				}
-				elements[name] += len(memory) - before
+			if i%2 == 1 {
+				c = p.roomy(c)
 			}
+			memory := patternMemory{}
+			p.addCase(memory, c)
+			before := len(memory)
+			if !p.addResult(memory, call(c)) || !p.addResult(memory, call(c)) {
+				t.Errorf("%s, case %d: results share memory: %.500q", name, i, fmt.Sprint(c))
+			}
+			elements[name] += len(memory) - before
 		}
 		if elements[name] < least[name] {
 			t.Errorf("%s: only %d elements were returned", name, elements[name])
