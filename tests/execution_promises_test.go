@@ -31,7 +31,7 @@ func (s programSource) numeral(depth int) string {
 		return s.oneOf("I", "J", "N", "0", "1", "2", "7", "'3'", "L<1>", "L<I>", "T<'k'>", "SIZE(S)")
 	}
 	a, b := s.numeral(depth-1), s.numeral(depth-1)
-	return s.oneOf("("+a+" + "+b+")", "("+a+" - "+b+")", "("+a+" * "+b+")", "F("+a+")", "G("+a+","+b+")", "-"+a, "(LT("+a+","+b+") "+a+")", "H()", "LENGTH(L)")
+	return s.oneOf("("+a+" + "+b+")", "("+a+" - "+b+")", "("+a+" * "+b+")", "("+a+" / "+b+")", "F("+a+")", "G("+a+","+b+")", "-"+a, "(LT("+a+","+b+") "+a+")", "H()", "LENGTH(L)")
 }
 
 // text returns an expression whose value is a string in most cases.
@@ -139,25 +139,242 @@ func (s programSource) program(t *testing.T) (impl.Program, impl.Memory) {
 	}
 }
 
-// TestRandomProgramsAgainstModel compares runs, and those that are collected, with the model.
-func TestRandomProgramsAgainstModel(t *testing.T) {
-	t.Parallel()
-	s := newProgramSource(201)
-	codes := map[int64]int{}
-	for range 1500 {
+// eachProgramRun calls visit with random programs, the memories in which they begin, and the outcomes of their runs.
+func eachProgramRun(t *testing.T, seed int64, count int, visit func(s programSource, what string, p impl.Program, m impl.Memory, x impl.Outcome)) {
+	t.Helper()
+	s := newProgramSource(seed)
+	for range count {
 		p, m := s.program(t)
-		fuel := []int64{400, 400, 400, int64(s.Intn(60))}[s.Intn(4)]
-		want := modelRun(p, m, fuel, 0)
-		codes[want.code]++
-		what := fmt.Sprintf("fuel %d: %s", fuel, impl.PrintProgram(p))
-		checkRun(t, what, programRun(impl.RunProgram(p, m, fuel)), want)
-		every := int64(1 + s.Intn(7))
-		checkRun(t, fmt.Sprint("every ", every, ": ", what), programRun(impl.RunCollecting(p, m, fuel, every)), modelRun(p, m, fuel, every))
+		visit(s, impl.PrintProgram(p), p, m, impl.RunProgram(p, m, runFuel))
 		if t.Failed() {
 			return
 		}
 	}
-	t.Log(codes)
 }
 
-var _ = slices.Sort[[]int]
+// runFuel is the fuel of the runs of random programs.
+const runFuel = 300
+
+// TestRandomProgramsAgainstModel compares runs, also with little fuel and with collections, with those of the model.
+func TestRandomProgramsAgainstModel(t *testing.T) {
+	t.Parallel()
+	codes := map[int64]int{}
+	traces := 0
+	eachProgramRun(t, 201, 600, func(s programSource, what string, p impl.Program, m impl.Memory, x impl.Outcome) {
+		checkRun(t, what, programRun(x), modelRun(p, m, runFuel, 0))
+		codes[x.Code]++
+		traces += len(x.Memory.Console.Trace)
+		fuel, every := s.Int63n(60), 1+s.Int63n(7)
+		checkRun(t, fmt.Sprintf("fuel %d: %s", fuel, what), programRun(impl.RunProgram(p, m, fuel)), modelRun(p, m, fuel, 0))
+		checkRun(t, fmt.Sprintf("every %d: %s", every, what), programRun(impl.RunCollecting(p, m, runFuel, every)), modelRun(p, m, runFuel, every))
+		checkEqual(t, what+": a valid memory", impl.ValidMemory(x.Memory) && modelMemory(x.Memory), true)
+	})
+	for _, code := range []int64{impl.OK, impl.ErrRange, impl.ErrType, impl.ErrUndefined, impl.ErrFull, impl.ErrSteps, impl.ErrStack, impl.ErrState} {
+		if codes[code] < 2 {
+			t.Errorf("only %d times the code %d", codes[code], code)
+		}
+	}
+	if traces < 100 {
+		t.Errorf("only %d trace lines", traces)
+	}
+}
+
+// TestStatementsAgainstModel compares what single statements, expressions and calls do in the memories that programs leave.
+func TestStatementsAgainstModel(t *testing.T) {
+	t.Parallel()
+	results := map[string]int{}
+	count := func(what string, succeeds bool, code int64) { results[fmt.Sprint(what, succeeds, code == impl.OK)]++ }
+	eachProgramRun(t, 202, 250, func(s programSource, what string, p impl.Program, m impl.Memory, x impl.Outcome) {
+		m = x.Memory
+		for range 4 {
+			at, fuel := s.Intn(len(p.Statements)), []int64{100, s.Int63n(12)}[s.Intn(2)]
+			got := statementRun(impl.RunStatement(p, m, int64(at), fuel))
+			checkRun(t, fmt.Sprintf("the statement %d with fuel %d: %s", at, fuel, what), got, modelRunStatement(p, m, at, fuel))
+			count("statement", got.succeeds, got.code)
+			e := parsedExpr(t, s.oneOf(s.numeral(3), s.text(3), s.pattern(3), s.object()))
+			got = evaluatedRun(impl.EvaluateIn(p, m, e, fuel))
+			checkRun(t, fmt.Sprintf("%s with fuel %d: %s", impl.PrintExpr(e), fuel, what), got, modelEvaluateIn(p, m, e, fuel))
+			count("expression", got.succeeds, got.code)
+			args := valuesOf("", "ab", s.Intn(5), nameOf("S"))[s.Intn(4):]
+			args = args[:s.Intn(min(len(args), 3)+1)]
+			name := s.oneOf("F", "G", "H", "K", "NODE", "SIZE")
+			got = evaluatedRun(impl.CallProgram(p, m, name, args, fuel))
+			checkRun(t, fmt.Sprintf("%s of %v with fuel %d: %s", name, args, fuel, what), got, modelCallProgram(p, m, name, args, fuel))
+			count("call", got.succeeds, got.code)
+		}
+	})
+	for _, what := range []string{"statement", "expression", "call"} {
+		for _, kind := range []string{"true true", "false true", "false false"} {
+			if results[what+kind] < 3 {
+				t.Errorf("only %d results: %s %s", results[what+kind], what, kind)
+			}
+		}
+	}
+}
+
+// TestSteppingIsRunning is the first part of promise 26.
+func TestSteppingIsRunning(t *testing.T) {
+	t.Parallel()
+	codes := map[int64]int{}
+	eachProgramRun(t, 203, 300, func(s programSource, what string, p impl.Program, m impl.Memory, x impl.Outcome) {
+		at, next, steps, code := int64(-1), int64(0), int64(0), int64(impl.OK)
+		for next >= 0 && code == impl.OK {
+			at = next
+			changed, to, _, used, got := impl.RunStatement(p, m, at, runFuel-steps)
+			if got == impl.OK {
+				m, steps = changed, steps+used
+				continuation, _ := modelContinuation(p.Statements, p.Statements[at].Goto, true, int(at))
+				other, _ := modelContinuation(p.Statements, p.Statements[at].Goto, false, int(at))
+				checkEqual(t, what+": the next statement", to == continuation || to == other, true)
+			}
+			next, code = to, got
+		}
+		codes[x.Code]++
+		if code != impl.OK {
+			checkEqual(t, what+": code", code, x.Code)
+			return
+		}
+		if next != impl.JumpEnd {
+			code = impl.ErrState
+		}
+		checkRun(t, what, runResult{m: m, next: at, steps: steps, code: code}, programRun(x))
+	})
+	if codes[impl.OK] < 40 || codes[impl.ErrState] < 1 || codes[impl.ErrSteps] < 40 {
+		t.Errorf("%v codes", codes)
+	}
+}
+
+func isPrefix(part, whole []string) bool {
+	return len(part) <= len(whole) && slices.Equal(part, whole[:len(part)])
+}
+
+// TestMoreFuelContinues is the second part of promise 26.
+func TestMoreFuelContinues(t *testing.T) {
+	t.Parallel()
+	exact := 0
+	eachProgramRun(t, 204, 150, func(s programSource, what string, p impl.Program, m impl.Memory, x impl.Outcome) {
+		last := impl.Outcome{At: -1, Memory: m, Code: impl.ErrSteps}
+		for fuel := int64(0); fuel <= x.Steps+2; fuel += 1 + fuel/12 {
+			y := impl.RunProgram(p, m, fuel)
+			at := fmt.Sprintf("fuel %d: %s", fuel, what)
+			if fuel >= x.Steps && x.Steps < runFuel {
+				checkRun(t, at, programRun(y), programRun(x))
+				continue
+			}
+			if fuel < x.Steps {
+				checkList(t, at+": steps and code", []int64{y.Steps, y.Code}, []int64{fuel, impl.ErrSteps})
+			}
+			before, after := last.Memory.Console, y.Memory.Console
+			checkEqual(t, at+": output goes on", isPrefix(before.Output, after.Output) && isPrefix(after.Output, x.Memory.Console.Output), true)
+			checkEqual(t, at+": the trace goes on", isPrefix(before.Trace, after.Trace), true)
+			checkEqual(t, at+": input is read on", before.At <= after.At && len(last.Memory.Heap.Objects) <= len(y.Memory.Heap.Objects), true)
+			last = y
+		}
+		if x.Steps > 0 && x.Steps < runFuel {
+			exact++
+			checkRun(t, "exactly enough: "+what, programRun(impl.RunProgram(p, m, x.Steps)), programRun(x))
+			y := impl.RunProgram(p, m, x.Steps-1)
+			checkList(t, "one less: "+what, []int64{y.Steps, y.Code}, []int64{x.Steps - 1, impl.ErrSteps})
+		}
+	})
+	if exact < 60 {
+		t.Errorf("only %d runs that end", exact)
+	}
+}
+
+// TestCallsLeaveVariables is the third part of promise 26.
+func TestCallsLeaveVariables(t *testing.T) {
+	t.Parallel()
+	calls := 0
+	eachProgramRun(t, 205, 400, func(s programSource, what string, p impl.Program, m impl.Memory, x impl.Outcome) {
+		m = x.Memory
+		for _, f := range m.Scope.Functions {
+			args := valuesOf("ab", s.Intn(4), "cab")[:s.Intn(len(f.Params)+1)]
+			after, _, _, _, code := impl.CallProgram(p, m, f.Name, args, 200)
+			if code != impl.OK {
+				continue
+			}
+			calls++
+			for _, name := range slices.Concat([]string{f.Name}, f.Params, f.Locals) {
+				v, _ := impl.Lookup(m.Scope, name)
+				w, _ := impl.Lookup(after.Scope, name)
+				checkEqual(t, fmt.Sprintf("%s after a call of %s: %s", name, f.Name, what), w, v)
+			}
+		}
+	})
+	if calls < 300 {
+		t.Errorf("only %d calls", calls)
+	}
+}
+
+// TestCollectingChangesNumbersOnly is promise 27.
+func TestCollectingChangesNumbersOnly(t *testing.T) {
+	t.Parallel()
+	compared, renumbered := 0, 0
+	eachProgramRun(t, 206, 400, func(s programSource, what string, p impl.Program, m impl.Memory, x impl.Outcome) {
+		if x.Code == impl.ErrFull {
+			return
+		}
+		for _, every := range []int64{1, 2, 3, 5, 11, 1 + s.Int63n(50)} {
+			y := impl.RunCollecting(p, m, runFuel, every)
+			at := fmt.Sprintf("every %d: %s", every, what)
+			checkList(t, at, []int64{y.At, y.Steps, y.Code}, []int64{x.At, x.Steps, x.Code})
+			checkEqual(t, at+": alike", impl.AlikeMemory(x.Memory, y.Memory), true)
+			checkEqual(t, at+": consoles", equalConsoles(x.Memory.Console, y.Memory.Console), true)
+			checkEqual(t, at+": the shape of the heap", impl.SameShape(x.Memory.Heap, impl.ScopeRoots(x.Memory.Scope), y.Memory.Heap, impl.ScopeRoots(y.Memory.Scope)), true)
+			compared++
+			if !equalHeaps(x.Memory.Heap, y.Memory.Heap) {
+				renumbered++
+			}
+		}
+		collected, code := impl.CollectMemory(x.Memory)
+		checkEqual(t, what+": collected at the end", code == impl.OK && impl.AlikeMemory(x.Memory, collected), true)
+	})
+	if compared < 1500 || renumbered < 500 {
+		t.Errorf("only %d runs, and %d with other numbers", compared, renumbered)
+	}
+}
+
+// TestOutputIsThatOfTheProgram is the first part of promise 28.
+func TestOutputIsThatOfTheProgram(t *testing.T) {
+	t.Parallel()
+	lines := 0
+	eachProgramRun(t, 207, 300, func(s programSource, what string, p impl.Program, m impl.Memory, x impl.Outcome) {
+		output, code := impl.OutputOf(what, m.Console.Input, runFuel)
+		checkList(t, what, output, x.Memory.Console.Output)
+		checkEqual(t, what, code, x.Code)
+		lines += len(output)
+	})
+	if lines < 500 {
+		t.Errorf("only %d lines", lines)
+	}
+}
+
+// TestNumbersAreCountedAndSummed is the second part of promise 28.
+func TestNumbersAreCountedAndSummed(t *testing.T) {
+	s := newProgramSource(208)
+	reading := "LOOP N = INPUT :F(DONE)\n SUM = SUM + N\n COUNT = COUNT + 1 :(LOOP)\nDONE OUTPUT = COUNT + 0\n OUTPUT = SUM + 0\nEND\n"
+	scanning := "LOOP S = INPUT :F(DONE)\nNEXT S SPAN('0123456789') . N = :F(LOOP)\n SUM = SUM + N; COUNT = COUNT + 1 :(NEXT)\nDONE OUTPUT = COUNT + 0; OUTPUT = SUM + 0\nEND\n"
+	calling := " DEFINE('SUM(N)'); DEFINE('COUNT(N)') :(LOOP)\nSUM SUM = LE(N,0) 0 :S(RETURN); SUM = N + SUM(N - 1) :(RETURN)\nCOUNT T = TABLE(); COUNT = 0\nAGAIN T<COUNT> = LT(COUNT,N) COUNT :F(SIZE); COUNT = COUNT + 1 :(AGAIN)\nSIZE COUNT = LENGTH(T) :(RETURN)\nLOOP N = INPUT :F(END); OUTPUT = COUNT(N); OUTPUT = SUM(N) :(LOOP)\nEND\n"
+	for range 60 {
+		var input []string
+		total := int64(0)
+		for range s.Intn(40) {
+			n := s.Int63n(1000)
+			total += n
+			input = append(input, fmt.Sprint(n))
+		}
+		want := []string{fmt.Sprint(len(input)), fmt.Sprint(total)}
+		for _, source := range []string{reading, scanning} {
+			output, code := impl.OutputOf(source, input, 4000)
+			checkList(t, fmt.Sprint("the numbers ", input), output, want)
+			checkEqual(t, fmt.Sprint("the numbers ", input), code, impl.OK)
+		}
+		output, code := impl.OutputOf(scanning, []string{strings.Join(input, ", ")[:min(200, len(strings.Join(input, ", ")))]}, 4000)
+		checkEqual(t, "numbers in a line", len(output) == 2 && code == impl.OK, true)
+		n := s.Int63n(12)
+		output, code = impl.OutputOf(calling, []string{fmt.Sprint(n), fmt.Sprint(11 - n)}, 4000)
+		checkList(t, fmt.Sprint("numbers up to ", n), output, []string{fmt.Sprint(n), fmt.Sprint(n * (n + 1) / 2), fmt.Sprint(11 - n), fmt.Sprint((11 - n) * (12 - n) / 2)})
+		checkEqual(t, fmt.Sprint("numbers up to ", n), code, impl.OK)
+	}
+}

@@ -733,7 +733,9 @@ func TestInvalidTargets(t *testing.T) {
 func TestElementsAndFieldsAsTargets(t *testing.T) {
 	m := exampleMemory()
 	element := func(object, index impl.Value) impl.Target { return impl.Target{Kind: 2, Object: object, Index: index} }
-	field := func(name string, object impl.Value) impl.Target { return impl.Target{Kind: 3, Name: name, Object: object} }
+	field := func(name string, object impl.Value) impl.Target {
+		return impl.Target{Kind: 3, Name: name, Object: object}
+	}
 	for _, c := range []struct {
 		target impl.Target
 		want   any

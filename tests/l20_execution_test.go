@@ -304,7 +304,7 @@ func TestCalls(t *testing.T) {
 	})
 }
 
-// TestCallsLeaveWhatTheySaw checks the memory of runs that end within a call.
+// TestErrorsInCalls checks the memory of runs that end within a call.
 func TestErrorsInCalls(t *testing.T) {
 	for _, c := range []struct {
 		source    string
@@ -769,4 +769,123 @@ func TestOutputOf(t *testing.T) {
 		checkList(t, fmt.Sprintf("%.60q: output", c.source), output, c.want)
 		checkEqual(t, fmt.Sprintf("%.60q: code", c.source), code, c.code)
 	}
+}
+
+func TestCollectMemory(t *testing.T) {
+	for _, c := range validMemories() {
+		collected, code := impl.CollectMemory(c.m)
+		want := copyMemory(c.m)
+		var roots []impl.Value
+		for _, b := range c.m.Scope.Vars {
+			roots = append(roots, b.Value)
+		}
+		h, moved, _ := impl.Collect(c.m.Heap, roots)
+		want.Heap = h
+		for i, v := range moved {
+			want.Scope.Vars[i].Value = v
+		}
+		checkRun(t, c.what, runResult{m: collected, code: code}, runResult{m: want})
+		again, code := impl.CollectMemory(collected)
+		checkRun(t, c.what+", again", runResult{m: again, code: code}, runResult{m: want})
+		checkEqual(t, c.what+": alike", impl.AlikeMemory(c.m, collected) && impl.AlikeMemory(collected, c.m), true)
+	}
+	m := impl.Memory{
+		Heap:    heapWith(9, arrayWith(2), tableWith(4, arrayRef(7), arrayRef(7), integerOf(1)), arrayWith(7, tableRef(4)), arrayWith(9)),
+		Scope:   impl.Scope{Vars: []impl.Binding{binding("A", arrayRef(9)), binding("B", tableRef(4)), binding("C", arrayRef(7)), binding("D", integerOf(7))}, Functions: []impl.Function{function("F", "F", nil, nil)}},
+		Console: impl.Console{Input: []string{"x"}, Trace: []string{"t"}},
+	}
+	collected, code := impl.CollectMemory(m)
+	want := copyMemory(m)
+	want.Heap = heapWith(3, arrayWith(1), tableWith(2, arrayRef(3), arrayRef(3), integerOf(1)), arrayWith(3, tableRef(2)))
+	want.Scope.Vars = []impl.Binding{binding("A", arrayRef(1)), binding("B", tableRef(2)), binding("C", arrayRef(3)), binding("D", integerOf(7))}
+	checkRun(t, "an example", runResult{m: collected, code: code}, runResult{m: want})
+}
+
+func TestAlikeMemory(t *testing.T) {
+	base := impl.Memory{
+		Heap:    heapWith(5, arrayWith(1, integerOf(1)), tableWith(3, stringOf(""), integerOf(1), arrayRef(1)), arrayWith(5)),
+		Scope:   impl.Scope{Vars: []impl.Binding{binding("A", tableRef(3)), binding("B", integerOf(7)), binding("C", arrayRef(5))}, Functions: []impl.Function{function("F", "F", []string{"X"}, nil)}, Types: []impl.RecordType{recordType("R", "A")}},
+		Console: exampleConsole(),
+	}
+	renumbered := copyMemory(base)
+	renumbered.Heap = heapWith(12, arrayWith(2), tableWith(4, stringOf(""), integerOf(1), arrayRef(9)), arrayWith(7, tableRef(4)), arrayWith(9, integerOf(1)))
+	renumbered.Scope.Vars[0].Value, renumbered.Scope.Vars[2].Value = tableRef(4), arrayRef(2)
+	alike := []impl.Memory{base, copyMemory(base), renumbered}
+	for i, a := range alike {
+		for k, b := range alike {
+			checkEqual(t, fmt.Sprintf("the memories %d and %d", i, k), impl.AlikeMemory(a, b), true)
+		}
+	}
+	for what, change := range map[string]func(m *impl.Memory){
+		"another element":         func(m *impl.Memory) { m.Heap.Objects[3].Vals[0] = integerOf(2) },
+		"another key":             func(m *impl.Memory) { m.Heap.Objects[1].Keys[0] = integerOf(2) },
+		"another default":         func(m *impl.Memory) { m.Heap.Objects[1].Default = integerOf(2) },
+		"another object":          func(m *impl.Memory) { m.Scope.Vars[2].Value = arrayRef(9) },
+		"the same object twice":   func(m *impl.Memory) { m.Heap.Objects[1].Vals[0] = arrayRef(2) },
+		"another value":           func(m *impl.Memory) { m.Scope.Vars[1].Value = integerOf(8) },
+		"another kind of value":   func(m *impl.Memory) { m.Scope.Vars[1].Value = stringOf("7") },
+		"an object for a value":   func(m *impl.Memory) { m.Scope.Vars[1].Value = arrayRef(2) },
+		"another name":            func(m *impl.Memory) { m.Scope.Vars[1].Name = "BB" },
+		"a variable more":         func(m *impl.Memory) { m.Scope.Vars = append(m.Scope.Vars, binding("D", integerOf(1))) },
+		"a variable less":         func(m *impl.Memory) { m.Scope.Vars = m.Scope.Vars[:2] },
+		"another function":        func(m *impl.Memory) { m.Scope.Functions[0].Label = "G" },
+		"no function":             func(m *impl.Memory) { m.Scope.Functions = nil },
+		"another type":            func(m *impl.Memory) { m.Scope.Types[0].Fields[0] = "B" },
+		"another input":           func(m *impl.Memory) { m.Console.Input[0] = "x" },
+		"more input that is read": func(m *impl.Memory) { m.Console.At++ },
+		"another output":          func(m *impl.Memory) { m.Console.Output[0] = "x" },
+		"another file":            func(m *impl.Memory) { m.Console.Files[0].Lines[0] = "x" },
+		"another trace":           func(m *impl.Memory) { m.Console.Trace = m.Console.Trace[1:] },
+		"an invalid heap":         func(m *impl.Memory) { m.Heap.Next = 8 },
+		"an invalid scope":        func(m *impl.Memory) { m.Scope.Functions[0].Label = "" },
+		"an invalid console":      func(m *impl.Memory) { m.Console.At = 4 },
+		"a value that fits not":   func(m *impl.Memory) { m.Scope.Vars[1].Value = arrayRef(1) },
+	} {
+		m := copyMemory(renumbered)
+		change(&m)
+		checkEqual(t, what, impl.AlikeMemory(base, m) || impl.AlikeMemory(m, base), false)
+	}
+	invalid := copyMemory(base)
+	invalid.Scope.Vars[1].Value = arrayRef(2)
+	checkEqual(t, "an invalid memory and itself", impl.AlikeMemory(invalid, invalid), false)
+}
+
+func TestRunCollecting(t *testing.T) {
+	// Each statement but the last two makes the object of the one before it garbage.
+	p := parsedProgram(t, " A = ARRAY(1)\n A = ARRAY(2)\n A = ARRAY(3)\n A = ARRAY(4)\n EQ(1,2)\n A = ARRAY(5)\n A = 1 / 0\n")
+	m := newMemory(t)
+	for every, count := range map[int64]int{1: 1, 2: 1, 3: 1, 4: 2, 5: 2, 6: 1, 7: 5, 8: 5, 4000: 5, math.MaxInt64: 5} {
+		x := impl.RunCollecting(p, m, 100, every)
+		checkList(t, fmt.Sprint("every ", every), []int64{x.At, x.Steps, x.Code, int64(len(x.Memory.Heap.Objects))}, []int64{6, 7, impl.ErrDivision, int64(count)})
+		checkRun(t, fmt.Sprint("every ", every), programRun(x), modelRun(p, m, 100, every))
+	}
+	for _, every := range []int64{0, -1, math.MinInt64} {
+		checkRun(t, fmt.Sprint("every ", every), programRun(impl.RunCollecting(p, m, 100, every)), runResult{code: impl.ErrRange})
+	}
+	for _, every := range []int64{1, 2, 3} {
+		x := impl.RunCollecting(parsedProgram(t, " A = ARRAY(1)\n B = ARRAY(2)\n A =\n B = TABLE() :(END)\nEND\n"), m, 3, every)
+		checkEqual(t, "without fuel for the last statement", len(x.Memory.Heap.Objects), map[int64]int{1: 1, 2: 2, 3: 1}[every])
+		x = impl.RunCollecting(parsedProgram(t, " A = ARRAY(1)\n A = ARRAY(2)\n A = ARRAY(3)\n"), m, 100, every)
+		checkEqual(t, fmt.Sprint("the last statement, every ", every), len(x.Memory.Heap.Objects), map[int64]int{1: 1, 2: 2, 3: 1}[every])
+		x = impl.RunCollecting(parsedProgram(t, " A = ARRAY(1)\n A = ARRAY(2)\n A = ARRAY(3) :(NONE)\n"), m, 100, every)
+		checkEqual(t, fmt.Sprint("an undefined label, every ", every), len(x.Memory.Heap.Objects), map[int64]int{1: 2, 2: 2, 3: 3}[every])
+		x = impl.RunCollecting(parsedProgram(t, " A = ARRAY(1)\n A = ARRAY(2)\n A = ARRAY(3) :(RETURN)\n"), m, 100, every)
+		checkEqual(t, fmt.Sprint("a return, every ", every), len(x.Memory.Heap.Objects), map[int64]int{1: 1, 2: 2, 3: 1}[every])
+		checkEqual(t, "a return", x.Code, impl.ErrState)
+	}
+}
+
+// TestCollectingInCalls checks that statements in calls neither count nor collect.
+func TestCollectingInCalls(t *testing.T) {
+	p := parsedProgram(t, " DEFINE('F(X)Y')\n A = F(2)\n A = F(1)\n A = 5 :(END)\nF Y = ARRAY(X)\n Y = TABLE()\n Y<X> = Y\n F = Y :(RETURN)\nEND\n")
+	m := newMemory(t)
+	for every, count := range map[int64]int{1: 0, 2: 0, 3: 1, 4: 0, 5: 4} {
+		x := impl.RunCollecting(p, m, 100, every)
+		checkList(t, fmt.Sprint("every ", every), []int64{x.At, x.Steps, x.Code, int64(len(x.Memory.Heap.Objects))}, []int64{3, 12, impl.OK, int64(count)})
+		checkRun(t, fmt.Sprint("every ", every), programRun(x), modelRun(p, m, 100, every))
+	}
+	// With collections, a program can create more objects than there can be at a time.
+	many := parsedProgram(t, "L A = TABLE()\n N = LT(N,200) N + 1 :S(L)\n OUTPUT = N\n")
+	checkEqual(t, "without collections", impl.RunProgram(many, m, 4000).Code, impl.ErrFull)
+	checkList(t, "with collections", impl.RunCollecting(many, m, 4000, 7).Memory.Console.Output, []string{"200"})
 }
