@@ -89,7 +89,7 @@ func TestEvaluationKeepsObjects(t *testing.T) {
 			t.Errorf("only %d times: %s", results[what], what)
 		}
 	}
-	if created < 200 {
+	if created < 150 {
 		t.Errorf("only %d objects were created", created)
 	}
 }
