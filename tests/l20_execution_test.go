@@ -889,3 +889,18 @@ func TestCollectingInCalls(t *testing.T) {
 	checkEqual(t, "without collections", impl.RunProgram(many, m, 4000).Code, impl.ErrFull)
 	checkList(t, "with collections", impl.RunCollecting(many, m, 4000, 7).Memory.Console.Output, []string{"200"})
 }
+
+// TestTraceOfTheFirstStatement checks that the first statement has a number, and that an expression outside of statements has none.
+func TestTraceOfTheFirstStatement(t *testing.T) {
+	p := parsedProgram(t, " X = F(1) :(END)\nF F = X :(RETURN)\n")
+	m := newMemory(t)
+	m.Scope = modelDefineFunction(varsOf(binding("TRACE", integerOf(1))), "F(X)", "").s
+	x := impl.RunProgram(p, m, 10)
+	checkList(t, "the program", x.Memory.Console.Trace, []string{"1: call F", `1: return F = ""`})
+	after, _, _, _, _ := impl.RunStatement(p, m, 0, 10)
+	checkList(t, "the statement", after.Console.Trace, []string{"1: call F", `1: return F = ""`})
+	after, _, _, _, _ = impl.EvaluateIn(p, m, call("F", number(1)), 10)
+	checkList(t, "the expression", after.Console.Trace, nil)
+	after, _, _, _, _ = impl.CallProgram(p, m, "F", nil, 10)
+	checkList(t, "the call", after.Console.Trace, nil)
+}
