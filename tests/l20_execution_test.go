@@ -518,6 +518,7 @@ func TestTraces(t *testing.T) {
 		{" DEFINE('F(X)TRACE'); DEFINE('G(X)'); F(1) :(END);F TRACE = 1; G(X) :(RETURN);G X = 2 :(FRETURN);END", "5: call G|5: fail G"},
 		{" DEFINE('TRACE(X)'); OUTPUT = TRACE(5); TRACE = 1; OUTPUT = TRACE(5) TRACE :(END);TRACE TRACE = X :(RETURN);END", `4: call TRACE|4: return TRACE = ""`},
 		{" DEFINE('F(X)'); TRACE = 1; F(1,2) :(END);F F = X :(RETURN);END", ""},
+		{" DEFINE('F(X)'); TRACE = 1; F(1) :(END);F F = F(X) :(RETURN);END", "3: call F" + strings.Repeat("|4: call F", 11)},
 		{" DEFINE('F(X)'); TRACE = 1; F(1) :(END)", "3: call F"},
 		{" DEFINE('F(X)','END'); TRACE = 1; F(1);END", "3: call F"},
 		{" DEFINE('F(X)'); TRACE = 1; F(1);F F = 1 / 0", "3: call F"},
@@ -712,6 +713,8 @@ func TestPatternsOfTheMemory(t *testing.T) {
 		" S B = 'y'":                {0, 1, impl.ErrInvalid},
 		" X = B; S = B; Y = B . X":  {2, 3, impl.ErrInvalid},
 		" B 'x'":                    {0, 1, impl.ErrType},
+		" ARRAY(1) B":               {0, 1, impl.ErrType},
+		" X = ARRAY(1); X B = 'y'":  {1, 2, impl.ErrType},
 		" X = B | 'x'":              {0, 1, impl.ErrInvalid},
 		" 'x' 'x' :F(END); 'y' B B": {1, 2, impl.ErrInvalid},
 	} {
