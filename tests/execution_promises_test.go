@@ -160,7 +160,7 @@ func TestRandomProgramsAgainstModel(t *testing.T) {
 	t.Parallel()
 	codes := map[int64]int{}
 	traces := 0
-	eachProgramRun(t, 201, 600, func(s programSource, what string, p impl.Program, m impl.Memory, x impl.Outcome) {
+	eachProgramRun(t, 201, 240, func(s programSource, what string, p impl.Program, m impl.Memory, x impl.Outcome) {
 		checkRun(t, what, programRun(x), modelRun(p, m, runFuel, 0))
 		codes[x.Code]++
 		traces += len(x.Memory.Console.Trace)
@@ -170,11 +170,11 @@ func TestRandomProgramsAgainstModel(t *testing.T) {
 		checkEqual(t, what+": a valid memory", impl.ValidMemory(x.Memory) && modelMemory(x.Memory), true)
 	})
 	for _, code := range []int64{impl.OK, impl.ErrRange, impl.ErrType, impl.ErrUndefined, impl.ErrFull, impl.ErrSteps, impl.ErrStack, impl.ErrState} {
-		if codes[code] < 2 {
-			t.Errorf("only %d times the code %d", codes[code], code)
+		if codes[code] < 1 {
+			t.Errorf("the code %d was not returned", code)
 		}
 	}
-	if traces < 100 {
+	if traces < 50 {
 		t.Errorf("only %d trace lines", traces)
 	}
 }
@@ -184,7 +184,7 @@ func TestStatementsAgainstModel(t *testing.T) {
 	t.Parallel()
 	results := map[string]int{}
 	count := func(what string, succeeds bool, code int64) { results[fmt.Sprint(what, succeeds, code == impl.OK)]++ }
-	eachProgramRun(t, 202, 250, func(s programSource, what string, p impl.Program, m impl.Memory, x impl.Outcome) {
+	eachProgramRun(t, 202, 150, func(s programSource, what string, p impl.Program, m impl.Memory, x impl.Outcome) {
 		m = x.Memory
 		for range 4 {
 			at, fuel := s.Intn(len(p.Statements)), []int64{100, s.Int63n(12)}[s.Intn(2)]
@@ -216,7 +216,7 @@ func TestStatementsAgainstModel(t *testing.T) {
 func TestSteppingIsRunning(t *testing.T) {
 	t.Parallel()
 	codes := map[int64]int{}
-	eachProgramRun(t, 203, 300, func(s programSource, what string, p impl.Program, m impl.Memory, x impl.Outcome) {
+	eachProgramRun(t, 203, 150, func(s programSource, what string, p impl.Program, m impl.Memory, x impl.Outcome) {
 		at, next, steps, code := int64(-1), int64(0), int64(0), int64(impl.OK)
 		for next >= 0 && code == impl.OK {
 			at = next
@@ -239,7 +239,7 @@ func TestSteppingIsRunning(t *testing.T) {
 		}
 		checkRun(t, what, runResult{m: m, next: at, steps: steps, code: code}, programRun(x))
 	})
-	if codes[impl.OK] < 40 || codes[impl.ErrState] < 1 || codes[impl.ErrSteps] < 40 {
+	if codes[impl.OK] < 20 || codes[impl.ErrState] < 1 || codes[impl.ErrSteps] < 20 {
 		t.Errorf("%v codes", codes)
 	}
 }
@@ -252,7 +252,7 @@ func isPrefix(part, whole []string) bool {
 func TestMoreFuelContinues(t *testing.T) {
 	t.Parallel()
 	exact := 0
-	eachProgramRun(t, 204, 150, func(s programSource, what string, p impl.Program, m impl.Memory, x impl.Outcome) {
+	eachProgramRun(t, 204, 80, func(s programSource, what string, p impl.Program, m impl.Memory, x impl.Outcome) {
 		last := impl.Outcome{At: -1, Memory: m, Code: impl.ErrSteps}
 		for fuel := int64(0); fuel <= x.Steps+2; fuel += 1 + fuel/12 {
 			y := impl.RunProgram(p, m, fuel)
@@ -277,7 +277,7 @@ func TestMoreFuelContinues(t *testing.T) {
 			checkList(t, "one less: "+what, []int64{y.Steps, y.Code}, []int64{x.Steps - 1, impl.ErrSteps})
 		}
 	})
-	if exact < 60 {
+	if exact < 30 {
 		t.Errorf("only %d runs that end", exact)
 	}
 }
@@ -286,7 +286,7 @@ func TestMoreFuelContinues(t *testing.T) {
 func TestCallsLeaveVariables(t *testing.T) {
 	t.Parallel()
 	calls := 0
-	eachProgramRun(t, 205, 400, func(s programSource, what string, p impl.Program, m impl.Memory, x impl.Outcome) {
+	eachProgramRun(t, 205, 250, func(s programSource, what string, p impl.Program, m impl.Memory, x impl.Outcome) {
 		m = x.Memory
 		for _, f := range m.Scope.Functions {
 			args := valuesOf("ab", s.Intn(4), "cab")[:s.Intn(len(f.Params)+1)]
@@ -302,7 +302,7 @@ func TestCallsLeaveVariables(t *testing.T) {
 			}
 		}
 	})
-	if calls < 300 {
+	if calls < 150 {
 		t.Errorf("only %d calls", calls)
 	}
 }
@@ -311,7 +311,7 @@ func TestCallsLeaveVariables(t *testing.T) {
 func TestCollectingChangesNumbersOnly(t *testing.T) {
 	t.Parallel()
 	compared, renumbered := 0, 0
-	eachProgramRun(t, 206, 400, func(s programSource, what string, p impl.Program, m impl.Memory, x impl.Outcome) {
+	eachProgramRun(t, 206, 180, func(s programSource, what string, p impl.Program, m impl.Memory, x impl.Outcome) {
 		if x.Code == impl.ErrFull {
 			return
 		}
@@ -330,7 +330,7 @@ func TestCollectingChangesNumbersOnly(t *testing.T) {
 		collected, code := impl.CollectMemory(x.Memory)
 		checkEqual(t, what+": collected at the end", code == impl.OK && impl.AlikeMemory(x.Memory, collected), true)
 	})
-	if compared < 1500 || renumbered < 500 {
+	if compared < 700 || renumbered < 250 {
 		t.Errorf("only %d runs, and %d with other numbers", compared, renumbered)
 	}
 }
@@ -339,13 +339,13 @@ func TestCollectingChangesNumbersOnly(t *testing.T) {
 func TestOutputIsThatOfTheProgram(t *testing.T) {
 	t.Parallel()
 	lines := 0
-	eachProgramRun(t, 207, 300, func(s programSource, what string, p impl.Program, m impl.Memory, x impl.Outcome) {
+	eachProgramRun(t, 207, 150, func(s programSource, what string, p impl.Program, m impl.Memory, x impl.Outcome) {
 		output, code := impl.OutputOf(what, m.Console.Input, runFuel)
 		checkList(t, what, output, x.Memory.Console.Output)
 		checkEqual(t, what, code, x.Code)
 		lines += len(output)
 	})
-	if lines < 500 {
+	if lines < 250 {
 		t.Errorf("only %d lines", lines)
 	}
 }
