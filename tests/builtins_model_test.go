@@ -35,7 +35,7 @@ func faulted(code int64) callResult {
 	return callResult{code: code}
 }
 
-// calledPredicate, calledString, calledPattern, calledHeap and calledAny take the results of the functions.
+// calledPredicate, calledString, calledPattern, calledHeap, calledFile and calledAny take the results of the functions.
 func calledPredicate(succeeds bool, code int64) callResult {
 	return callResult{succeeds: succeeds, code: code}
 }
@@ -50,6 +50,10 @@ func calledPattern(p impl.Pattern, code int64) callResult {
 
 func calledHeap(h impl.Heap, v impl.Value, succeeds bool, code int64) callResult {
 	return callResult{heap: h, v: v, succeeds: succeeds, code: code}
+}
+
+func calledFile(c impl.Console, v impl.Value, succeeds bool, code int64) callResult {
+	return callResult{console: c, v: v, succeeds: succeeds, code: code}
 }
 
 func calledAny(h impl.Heap, c impl.Console, v impl.Value, succeeds bool, code int64) callResult {
@@ -121,18 +125,13 @@ func sortedBuiltins(tables ...string) []string {
 	return names
 }
 
-// withoutFiles returns the names of all functions except those on files.
-func withoutFiles() []string {
-	return sortedBuiltins(ofPredicates, ofStrings, ofPatterns, ofHeap)
-}
-
 // noBuiltins are names of no function.
 func noBuiltins() []string {
 	return []string{"", "eq", "Eq", "EQ ", " EQ", "EQUAL", "E", "NONE", "SIZ", "SIZES", "REM", "ARB", "FAIL", "INPUT", "OUTPUT", "DEFINE", "DATA", "Size", "ALT", "CAT", "COND", "READ", "WRITE", "DELETE", "APPEND", "len", "\x00", "SIZE\x00", "\xff", "LEN(3)", strings.Repeat("SIZE", 100000)}
 }
 
 // callTable calls the function of the table that a name belongs to.
-func callTable(table string, h impl.Heap, name string, args []impl.Value) callResult {
+func callTable(table string, h impl.Heap, c impl.Console, name string, args []impl.Value) callResult {
 	switch table {
 	case ofPredicates:
 		return calledPredicate(impl.CallPredicate(name, args))
@@ -140,8 +139,10 @@ func callTable(table string, h impl.Heap, name string, args []impl.Value) callRe
 		return calledString(impl.CallString(name, args))
 	case ofPatterns:
 		return calledPattern(impl.CallPattern(name, args))
+	case ofHeap:
+		return calledHeap(impl.CallHeap(h, name, args))
 	}
-	return calledHeap(impl.CallHeap(h, name, args))
+	return calledFile(impl.CallFile(c, name, args))
 }
 
 // modelArgs are the arguments of a call for each parameter.
@@ -197,8 +198,9 @@ func modelArguments(h impl.Heap, params string, args []impl.Value) (modelArgs, i
 	return a, impl.OK
 }
 
-// modelCall returns what the function of a table returns. The heap is valid; only functions on the heap look at it.
-func modelCall(table string, h impl.Heap, name string, args []impl.Value) callResult {
+// modelCall returns what the function of a table returns. The heap and the
+// console are valid; only the functions on the heap and on files look at them.
+func modelCall(table string, h impl.Heap, c impl.Console, name string, args []impl.Value) callResult {
 	for _, v := range args {
 		if !modelValid(v) || table == ofHeap && !modelFits(h.Objects, v) {
 			return faulted(impl.ErrInvalid)
@@ -222,8 +224,10 @@ func modelCall(table string, h impl.Heap, name string, args []impl.Value) callRe
 		return modelString(name, a)
 	case ofPatterns:
 		return modelPatternCall(name, a)
+	case ofHeap:
+		return modelHeapCall(name, a)
 	}
-	return modelHeapCall(name, a)
+	return modelFileFunction(name, c, a)
 }
 
 func modelPredicate(name string, a modelArgs) callResult {
@@ -363,8 +367,7 @@ func modelHeapCall(name string, a modelArgs) callResult {
 	return callResult{heap: a.heap}
 }
 
-// modelBuiltin returns what CallBuiltin returns for a function that is not one
-// on files, if heap and console are valid.
+// modelBuiltin returns what CallBuiltin returns, if heap and console are valid.
 func modelBuiltin(h impl.Heap, c impl.Console, name string, args []impl.Value) callResult {
 	for _, v := range args {
 		if !modelValid(v) || !modelFits(h.Objects, v) {
@@ -375,7 +378,7 @@ func modelBuiltin(h impl.Heap, c impl.Console, name string, args []impl.Value) c
 	if !found {
 		return faulted(impl.ErrUndefined)
 	}
-	return asBuiltin(h, c, row.table, modelCall(row.table, h, name, args))
+	return asBuiltin(h, c, row.table, modelCall(row.table, h, c, name, args))
 }
 
 // asBuiltin returns what CallBuiltin returns, by what the function of a table returns.
@@ -396,7 +399,9 @@ func asBuiltin(h impl.Heap, c impl.Console, table string, r callResult) callResu
 	if table != ofHeap {
 		r.heap = h
 	}
-	r.console = c
+	if table != ofFiles {
+		r.console = c
+	}
 	return r
 }
 
@@ -404,7 +409,7 @@ func asBuiltin(h impl.Heap, c impl.Console, table string, r callResult) callResu
 func checkBuiltin(t *testing.T, h impl.Heap, name string, args []impl.Value, want callResult) {
 	t.Helper()
 	table, c := builtinRows[name].table, exampleConsole()
-	checkCallWith(t, name, args, callTable(table, h, name, args), want)
+	checkCallWith(t, name, args, callTable(table, h, c, name, args), want)
 	checkCallWith(t, "CallBuiltin: "+name, args, calledAny(impl.CallBuiltin(h, c, name, args)), asBuiltin(h, c, table, want))
 }
 

@@ -115,10 +115,28 @@ func TestConsolesAgainstModel(t *testing.T) {
 	}
 }
 
+// checkConsoleLeft checks the console that a call left: a valid one, which a
+// function on files can change only in the file with the name that it was given.
+func checkConsoleLeft(t *testing.T, what string, c impl.Console, name string, args []impl.Value, left impl.Console) {
+	t.Helper()
+	if !modelConsole(left) || !impl.ValidConsole(left) {
+		t.Errorf("%s: the console is invalid: %.500q", what, fmt.Sprint(left))
+	}
+	before, after := filesOf(c), filesOf(left)
+	if builtinRows[name].table == ofFiles {
+		delete(before, args[0].Text)
+		delete(after, args[0].Text)
+	}
+	if !equalConsoles(withFiles(left, after), withFiles(c, before)) {
+		t.Errorf("%s: another console: %.500q", what, fmt.Sprint(left))
+	}
+}
+
 // checkLeft checks what a call left: a valid heap with all objects that were
 // there, at most one new object, the console, and a value that fits.
-func checkLeft(t *testing.T, what string, h impl.Heap, c impl.Console, r callResult) {
+func checkLeft(t *testing.T, h impl.Heap, c impl.Console, name string, args []impl.Value, r callResult) {
 	t.Helper()
+	what := fmt.Sprintf("%s with %.200q", name, fmt.Sprint(args))
 	if r.code != impl.OK {
 		checkCall(t, what, r, faulted(r.code))
 		return
@@ -126,9 +144,7 @@ func checkLeft(t *testing.T, what string, h impl.Heap, c impl.Console, r callRes
 	if !modelHeap(r.heap) || !impl.ValidHeap(r.heap) {
 		t.Errorf("%s: the heap is invalid: %.500q", what, fmt.Sprint(r.heap))
 	}
-	if !modelConsole(r.console) || !equalConsoles(r.console, c) {
-		t.Errorf("%s: another console: %.500q", what, fmt.Sprint(r.console))
-	}
+	checkConsoleLeft(t, what, c, name, args, r.console)
 	if count := len(h.Objects); len(r.heap.Objects) < count || len(r.heap.Objects) > count+1 || !equalHeaps(impl.Heap{Next: h.Next, Objects: r.heap.Objects[:count]}, h) {
 		t.Errorf("%s: other objects: %.500q", what, fmt.Sprint(r.heap))
 	}
@@ -152,13 +168,21 @@ func (s *callSeries) value() impl.Value {
 	return list[s.Intn(len(list))]
 }
 
-// call returns a function and arguments for it, which are too many in some cases.
+// call returns a function and arguments for it, which are too few or too many in some cases.
 func (s *callSeries) call() (string, []impl.Value) {
-	names := [][]string{withoutFiles(), sortedBuiltins(ofHeap)}[s.Intn(2)]
+	names := [][]string{sortedBuiltins(), sortedBuiltins(ofHeap), sortedBuiltins(ofFiles)}[s.Intn(3)]
 	name := names[s.Intn(len(names))]
+	row := builtinRows[name]
+	count := []int{len(row.params), len(row.params), s.Intn(len(row.params) + 2)}[s.Intn(3)]
 	var args []impl.Value
-	for range s.Intn(len(builtinRows[name].params) + 2) {
+	for range count {
 		args = append(args, s.value())
+	}
+	if row.table == ofFiles && count > 0 && s.Intn(6) > 0 {
+		args[0] = stringOf([]string{"A", "B", "F", "a", "A", "B", "F", "Z", "b_1", "AA", "A0"}[s.Intn(11)])
+	}
+	if name == "OPEN" && count > 1 && s.Intn(6) > 0 {
+		args[1] = stringOf([]string{"R", "R", "R", "W", "A"}[s.Intn(5)])
 	}
 	return name, args
 }
@@ -172,9 +196,9 @@ func (s *callSeries) keep(v impl.Value) {
 	}
 }
 
-// TestCallsLeaveValidHeaps is the first part of promise 23.
-func TestCallsLeaveValidHeaps(t *testing.T) {
-	codes, given := map[int64]int{}, map[int64]int{}
+// TestCallsLeaveValidHeapsAndConsoles is the first part of promise 23.
+func TestCallsLeaveValidHeapsAndConsoles(t *testing.T) {
+	codes, given, onFiles := map[int64]int{}, map[int64]int{}, map[string]int{}
 	consoles := validConsoles()
 	for i := range 100 {
 		h, c := impl.Heap{}, consoles[i%len(consoles)].c
@@ -182,11 +206,14 @@ func TestCallsLeaveValidHeaps(t *testing.T) {
 		for range 400 {
 			name, args := s.call()
 			r := calledAny(impl.CallBuiltin(h, c, name, args))
-			checkLeft(t, fmt.Sprintf("%s with %.200q", name, fmt.Sprint(args)), h, c, r)
+			checkLeft(t, h, c, name, args, r)
 			codes[r.code]++
 			if r.code == impl.OK {
-				h = r.heap
+				h, c = r.heap, r.console
 				given[r.v.Kind]++
+			}
+			if builtinRows[name].table == ofFiles {
+				onFiles[fmt.Sprint(name, r.code)]++
 			}
 			if r.succeeds {
 				s.keep(r.v)
@@ -196,9 +223,16 @@ func TestCallsLeaveValidHeaps(t *testing.T) {
 			t.Errorf("only %d objects after a series of calls", len(h.Objects))
 		}
 	}
-	for _, code := range []int64{impl.OK, impl.ErrRange, impl.ErrType, impl.ErrFull} {
+	for _, code := range []int64{impl.OK, impl.ErrRange, impl.ErrType, impl.ErrFull, impl.ErrInvalid, impl.ErrNotFound, impl.ErrState} {
 		if codes[code] < 100 {
 			t.Errorf("the code %d was returned only %d times", code, codes[code])
+		}
+	}
+	for _, name := range sortedBuiltins(ofFiles) {
+		for _, code := range []int64{impl.OK, impl.ErrInvalid, impl.ErrRange, impl.ErrType, impl.ErrNotFound, impl.ErrState} {
+			if count := onFiles[fmt.Sprint(name, code)]; count < 50 && (name != "OPEN" || code != impl.ErrInvalid) {
+				t.Errorf("%s returned the code %d only %d times", name, code, count)
+			}
 		}
 	}
 	for _, kind := range []int64{0, impl.VkString, impl.VkInteger, impl.VkPattern, impl.VkArray, impl.VkTable} {
@@ -212,7 +246,7 @@ func TestCallsLeaveValidHeaps(t *testing.T) {
 func TestCallsOfTablesAgree(t *testing.T) {
 	r := rand.New(rand.NewSource(175))
 	m := heapMaker{r}
-	names := withoutFiles()
+	names, c := sortedBuiltins(), exampleConsole()
 	for range 20000 {
 		h := m.heap(5)
 		name := names[r.Intn(len(names))]
@@ -221,8 +255,11 @@ func TestCallsOfTablesAgree(t *testing.T) {
 		for range r.Intn(4) {
 			args = append(args, append(valuesOf(r.Intn(5), "abc", patternOf("arb")), m.value(h.Objects))[r.Intn(4)])
 		}
-		want := asBuiltin(h, impl.Console{}, table, callTable(table, h, name, args))
-		checkCallWith(t, name, args, calledAny(impl.CallBuiltin(h, impl.Console{}, name, args)), want)
+		if table == ofFiles && len(args) > 0 {
+			args[0] = stringOf([]string{"A", "B", "a", "b_1", "NEW"}[r.Intn(5)])
+		}
+		want := asBuiltin(h, c, table, callTable(table, h, c, name, args))
+		checkCallWith(t, name, args, calledAny(impl.CallBuiltin(h, c, name, args)), want)
 	}
 }
 

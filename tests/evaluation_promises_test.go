@@ -30,7 +30,7 @@ func (s programSource) memory(t *testing.T) impl.Memory {
 func (s programSource) expression(t *testing.T) impl.Expr {
 	t.Helper()
 	for {
-		text := s.oneOf(s.numeral(3), s.text(3), s.pattern(2), s.object(), s.target(), s.target(), s.oneOf("L<L<9>>", "HEAD(L<9>)", "$INPUT", "T<EQ(1,2)>"), "DEFINE('"+s.oneOf("F", "NEW", "A,B")+"(X,Y)')", "DATA('"+s.oneOf("NODE", "NEW")+"("+s.oneOf("HEAD", "Q,R")+")')")
+		text := s.oneOf(s.numeral(3), s.text(3), s.pattern(2), s.object(), s.target(), s.target(), s.oneOf("L<L<9>>", "HEAD(L<9>)", "$INPUT", "T<EQ(1,2)>"), s.files(), s.oneOf("$("+s.files()+")", "T<"+s.files()+">"), "DEFINE('"+s.oneOf("F", "NEW", "A,B")+"(X,Y)')", "DATA('"+s.oneOf("NODE", "NEW")+"("+s.oneOf("HEAD", "Q,R")+")')")
 		if s.Intn(3) == 0 {
 			text = "(" + text + ") " + s.oneOf(s.numeral(2), s.object(), s.target())
 		}
@@ -59,7 +59,7 @@ func TestEvaluationKeepsObjects(t *testing.T) {
 	s := newProgramSource(211)
 	results := map[string]int{}
 	created := 0
-	for range 250 {
+	for range 320 {
 		m := s.memory(t)
 		for range 12 {
 			e := s.expression(t)
@@ -99,10 +99,10 @@ func TestFunctionsKeepObjects(t *testing.T) {
 	t.Parallel()
 	s := newProgramSource(212)
 	codes := map[int64]int{}
-	names := append(withoutFiles(), "DEFINE", "DATA", "NODE", "HEAD", "TAIL", "F", "G", "NONE")
+	names := append(sortedBuiltins(), "DEFINE", "DATA", "NODE", "HEAD", "TAIL", "F", "G", "NONE")
 	for range 150 {
 		m := s.memory(t)
-		values := append(impl.ScopeRoots(m.Scope), valuesOf("", "ab", 1, 2, "NEW(A,B)", nameOf("S"), deferOf("P"), patternOf("rem"))...)
+		values := append(impl.ScopeRoots(m.Scope), valuesOf("", "ab", 1, 2, "NEW(A,B)", "IN", "LOG", "R", "A", nameOf("S"), deferOf("P"), patternOf("rem"))...)
 		for range 40 {
 			name := names[s.Intn(len(names))]
 			var args []impl.Value

@@ -37,7 +37,7 @@ func (s programSource) numeral(depth int) string {
 // text returns an expression whose value is a string in most cases.
 func (s programSource) text(depth int) string {
 	if depth == 0 || s.Intn(3) == 0 {
-		return s.oneOf("S", "W", "V", "'ab'", "'cab'", "''", "INPUT", "I", "T<I>", "T<S>", "$'S'", "$.W", "DUPL('ab',I)")
+		return s.oneOf("S", "W", "V", "'ab'", "'cab'", "''", "INPUT", "I", "T<I>", "T<S>", "$'S'", "$.W", "DUPL('ab',I)", "GET('IN')")
 	}
 	a, b := s.text(depth-1), s.text(depth-1)
 	return s.oneOf("("+a+" "+b+")", "REVERSE("+a+")", "F("+a+")", "G("+a+")", "("+a+" "+s.numeral(depth-1)+")", "TRIM("+a+")", "HEAD(R)", "K("+a+")", "(IDENT("+a+","+b+") "+a+")")
@@ -67,10 +67,15 @@ func (s programSource) goTo() string {
 	return s.oneOf("", "", "", "", "", "", ":("+label+")", ":S("+label+")", ":F("+label+")", ":S("+label+")F(L6)", ":F(END)")
 }
 
+// files returns an expression that changes files without an error in most cases.
+func (s programSource) files() string {
+	return s.oneOf("PUT('LOG',S)", "PUT('LOG',"+s.text(1)+")", "PUT('LOG',GET('IN'))", "GET('IN')", "REWIND('IN')", "REWIND('IN') GET('IN')", "CLOSE('LOG') OPEN('LOG','A') PUT('LOG',I)", "CLOSE('LOG') OPEN('LOG','R') GET('LOG') CLOSE('LOG') OPEN('LOG','A')", "CLOSE('LOG') OPEN('LOG','W')", "OPEN('A' I,'A') PUT('A' I,S) CLOSE('A' I)", "CLOSE('IN') ERASE('IN') OPEN('IN','A') PUT('IN',W) CLOSE('IN') OPEN('IN','R')", "OPEN('A' N,'W')", "OPEN(S,'A')", "OPEN(W,'A')", "PUT('IN',S)", "ERASE('A' I)")
+}
+
 // statement returns a statement with parts of all sorts.
 func (s programSource) statement() string {
 	var body string
-	switch s.Intn(12) {
+	switch s.Intn(13) {
 	case 0:
 		body = "(" + s.text(2) + ")"
 	case 1, 2:
@@ -85,6 +90,8 @@ func (s programSource) statement() string {
 		body = "P = " + s.pattern(2)
 	case 10:
 		body = s.oneOf("L", "T", "R", "L<2>", "T<S>", "TAIL(R)", "V", "T<R>") + " = " + s.object()
+	case 11:
+		body = s.oneOf("", "", "S = ", "W = ", "OUTPUT = ", "T<I> = ") + s.files()
 	default:
 		body = s.oneOf("", "S = INPUT", "DEFINE('F(I)J')", "DEFINE('G(N,S)','F')", "DEFINE('K(S)','K2')", "DATA('NODE(HEAD,TAIL)')", "OUTPUT = I", "OUTPUT = S", "TRACE = 1", "TRACE =", "ANCHOR = 1", "ANCHOR =")
 		if body == "" {
@@ -94,11 +101,12 @@ func (s programSource) statement() string {
 	return " " + body + " " + s.goTo()
 }
 
-// source returns a source text with functions that call each other, objects, and statements of all sorts.
+// source returns a source text with functions that call each other, objects, files, and statements of all sorts.
 func (s programSource) source() string {
 	lines := []string{
 		" DEFINE('F(I)J')", " DEFINE('G(N,S)W','G1')", " DEFINE('H()I')", " DEFINE('K(K)','K1')", " DATA('NODE(HEAD,TAIL)')",
 		" L = ARRAY(3,1)", " T = TABLE()", " R = NODE('ab',L)", " S = 'cabab'", " I = 2",
+		" OPEN('IN','W') PUT('IN','ab') PUT('IN',7) PUT('IN','cab') CLOSE('IN') OPEN('IN','R') OPEN('LOG','A')",
 	}
 	for i := range 12 {
 		label := ""
@@ -159,23 +167,26 @@ const runFuel = 300
 func TestRandomProgramsAgainstModel(t *testing.T) {
 	t.Parallel()
 	codes := map[int64]int{}
-	traces := 0
+	traces, read, appended := 0, 0, 0
 	eachProgramRun(t, 201, 240, func(s programSource, what string, p impl.Program, m impl.Memory, x impl.Outcome) {
 		checkRun(t, what, programRun(x), modelRun(p, m, runFuel, 0))
 		codes[x.Code]++
 		traces += len(x.Memory.Console.Trace)
+		files := filesOf(x.Memory.Console)
+		read += int(files["IN"].At)
+		appended += len(files["LOG"].Lines)
 		fuel, every := s.Int63n(60), 1+s.Int63n(7)
 		checkRun(t, fmt.Sprintf("fuel %d: %s", fuel, what), programRun(impl.RunProgram(p, m, fuel)), modelRun(p, m, fuel, 0))
 		checkRun(t, fmt.Sprintf("every %d: %s", every, what), programRun(impl.RunCollecting(p, m, runFuel, every)), modelRun(p, m, runFuel, every))
 		checkEqual(t, what+": a valid memory", impl.ValidMemory(x.Memory) && modelMemory(x.Memory), true)
 	})
-	for _, code := range []int64{impl.OK, impl.ErrRange, impl.ErrType, impl.ErrUndefined, impl.ErrFull, impl.ErrSteps, impl.ErrStack, impl.ErrState} {
+	for _, code := range []int64{impl.OK, impl.ErrInvalid, impl.ErrRange, impl.ErrType, impl.ErrUndefined, impl.ErrFull, impl.ErrSteps, impl.ErrStack, impl.ErrState, impl.ErrNotFound} {
 		if codes[code] < 1 {
 			t.Errorf("the code %d was not returned", code)
 		}
 	}
-	if traces < 50 {
-		t.Errorf("only %d trace lines", traces)
+	if traces < 50 || read < 50 || appended < 50 {
+		t.Errorf("only %d trace lines, and %d lines of files that were read and %d that were written", traces, read, appended)
 	}
 }
 
@@ -184,7 +195,7 @@ func TestStatementsAgainstModel(t *testing.T) {
 	t.Parallel()
 	results := map[string]int{}
 	count := func(what string, succeeds bool, code int64) { results[fmt.Sprint(what, succeeds, code == impl.OK)]++ }
-	eachProgramRun(t, 202, 150, func(s programSource, what string, p impl.Program, m impl.Memory, x impl.Outcome) {
+	eachProgramRun(t, 202, 180, func(s programSource, what string, p impl.Program, m impl.Memory, x impl.Outcome) {
 		m = x.Memory
 		for range 4 {
 			at, fuel := s.Intn(len(p.Statements)), []int64{100, s.Int63n(12)}[s.Intn(2)]

@@ -475,15 +475,15 @@ func allTables() map[string]func(name string, args []impl.Value) callResult {
 			return calledAny(impl.CallBuiltin(exampleHeap(), exampleConsole(), name, args))
 		},
 	}
-	for _, table := range []string{ofPredicates, ofStrings, ofPatterns, ofHeap} {
+	for _, table := range []string{ofPredicates, ofStrings, ofPatterns, ofHeap, ofFiles} {
 		tables[table] = func(name string, args []impl.Value) callResult {
-			return callTable(table, exampleHeap(), name, args)
+			return callTable(table, exampleHeap(), exampleConsole(), name, args)
 		}
 	}
 	return tables
 }
 
-// goodArguments returns arguments with which a function returns no error.
+// goodArguments returns arguments with which a function returns no error for the example heap and the example console.
 func goodArguments(name string) []impl.Value {
 	switch name {
 	case "REPLACE":
@@ -494,6 +494,12 @@ func goodArguments(name string) []impl.Value {
 		return valuesOf(arrayRef(1), 1)
 	case "OPEN":
 		return valuesOf("NEW", "W")
+	case "PUT":
+		return valuesOf("a", "new")
+	case "GET", "CLOSE", "REWIND":
+		return valuesOf("A")
+	case "ERASE":
+		return valuesOf("B")
 	}
 	return valuesOf(2, 2, 2)[:len(builtinRows[name].params)]
 }
@@ -573,14 +579,12 @@ func TestMissingArguments(t *testing.T) {
 	h, c := exampleHeap(), exampleConsole()
 	lists := 0
 	for name, row := range builtinRows {
-		for _, first := range valuesOf("", "ab", "2", 2, 1, 0, patternOf("rem"), arrayRef(1), tableRef(2), recordRef(4), nameOf("X"), deferOf("X")) {
+		for _, first := range valuesOf("", "ab", "2", 2, 1, 0, "A", "B", "a", patternOf("rem"), arrayRef(1), tableRef(2), recordRef(4), nameOf("X"), deferOf("X")) {
 			for _, second := range valuesOf("", "a", 1) {
 				args := []impl.Value{first, second, stringOf("")}[:len(row.params)]
 				for given := range args {
 					padded := append(slices.Clone(args[:given]), slices.Repeat(valuesOf(""), len(args)-given)...)
-					if row.table != ofFiles {
-						checkCallWith(t, name, args[:given], callTable(row.table, h, name, args[:given]), callTable(row.table, h, name, padded))
-					}
+					checkCallWith(t, name, args[:given], callTable(row.table, h, c, name, args[:given]), callTable(row.table, h, c, name, padded))
 					checkCallWith(t, "CallBuiltin: "+name, args[:given], calledAny(impl.CallBuiltin(h, c, name, args[:given])), calledAny(impl.CallBuiltin(h, c, name, padded)))
 					lists++
 				}
@@ -605,23 +609,31 @@ func TestInvalidHeapsAndConsoles(t *testing.T) {
 		for k, name := range names {
 			args := [][]impl.Value{nil, goodArguments(name), valuesOf(1, 2, 3, 4), {{}}}[(i+k)%4]
 			checkCall(t, "CallBuiltin: "+console.what, calledAny(impl.CallBuiltin(exampleHeap(), console.c, name, args)), faulted(impl.ErrInvalid))
+			checkCall(t, "CallFile: "+console.what, calledFile(impl.CallFile(console.c, name, args)), faulted(impl.ErrInvalid))
 		}
 		checkCall(t, "CallBuiltin: "+console.what, calledAny(impl.CallBuiltin(impl.Heap{}, console.c, "EQ", nil)), faulted(impl.ErrInvalid))
 	}
 }
 
-// TestValidConsoles checks that a console is returned as it was.
+// TestValidConsoles checks that a console is returned as it was, unless a function on files changes it.
 func TestValidConsoles(t *testing.T) {
 	for _, console := range validConsoles() {
-		for _, name := range withoutFiles() {
+		for _, name := range sortedBuiltins() {
 			args := goodArguments(name)
 			want := modelBuiltin(exampleHeap(), console.c, name, args)
-			checkEqual(t, name+": code", want.code, impl.OK)
+			if builtinRows[name].table != ofFiles || equalConsoles(console.c, exampleConsole()) {
+				checkEqual(t, name+": code", want.code, impl.OK)
+			}
 			checkCall(t, name+" with "+console.what, calledAny(impl.CallBuiltin(exampleHeap(), console.c, name, args)), want)
 		}
 		fails := callResult{heap: exampleHeap(), console: console.c}
 		for name, args := range map[string][]impl.Value{"EQ": valuesOf(1, 2), "INTEGER": valuesOf("x"), "SUBSTR": nil, "ORD": nil, "KEY": valuesOf(arrayRef(1), 9), "ITEM": valuesOf(arrayRef(8))} {
 			checkCall(t, name+" that fails, with "+console.what, calledAny(impl.CallBuiltin(exampleHeap(), console.c, name, args)), fails)
+		}
+		for _, f := range console.c.Files {
+			if f.Mode == impl.FmRead && f.At == int64(len(f.Lines)) {
+				checkCall(t, "GET that fails, with "+console.what, calledAny(impl.CallBuiltin(exampleHeap(), console.c, "GET", valuesOf(f.Name))), fails)
+			}
 		}
 	}
 }
@@ -653,18 +665,18 @@ func TestBuiltinsAgainstModel(t *testing.T) {
 	}
 	h, c := exampleHeap(), exampleConsole()
 	outcomes := map[string]int{}
-	for _, name := range append(withoutFiles(), "NONE") {
+	for _, name := range append(sortedBuiltins(), "NONE") {
 		for i, args := range lists {
 			// Of the lists that are too long, some are enough.
 			if len(args) > len(builtinRows[name].params)+1 && i%29 > 0 {
 				continue
 			}
-			for _, table := range []string{ofPredicates, ofStrings, ofPatterns, ofHeap} {
+			for _, table := range []string{ofPredicates, ofStrings, ofPatterns, ofHeap, ofFiles} {
 				if builtinRows[name].table != table && len(args) > 1 {
 					continue
 				}
-				want := modelCall(table, h, name, args)
-				checkCallWith(t, name, args, callTable(table, h, name, args), want)
+				want := modelCall(table, h, c, name, args)
+				checkCallWith(t, name, args, callTable(table, h, c, name, args), want)
 				if builtinRows[name].table == table {
 					outcomes[fmt.Sprint(name, want.code, want.succeeds)]++
 				}
@@ -682,7 +694,7 @@ func TestBuiltinsWithRandomArguments(t *testing.T) {
 	t.Parallel()
 	m := heapMaker{rand.New(rand.NewSource(171))}
 	texts := randomTexts(172, 5000, 40, append(allBytes(), slices.Repeat([]string{" ", "a", "b", "0", "1"}, 60)...))
-	names := withoutFiles()
+	names := sortedBuiltins()
 	outcomes := map[string]int{}
 	for i := range 40000 {
 		h := m.heap(4)
@@ -717,7 +729,7 @@ func TestBuiltinsWithStrangeArguments(t *testing.T) {
 		values = append(values, integerOf(n), arrayRef(n), impl.Value{Kind: n})
 	}
 	h := exampleHeap()
-	for _, name := range withoutFiles() {
+	for _, name := range sortedBuiltins() {
 		for _, v := range values {
 			for _, args := range [][]impl.Value{{v}, {arrayRef(1), v}, {v, v, v}} {
 				checkCallWith(t, name, args, calledAny(impl.CallBuiltin(h, impl.Console{}, name, args)), modelBuiltin(h, impl.Console{}, name, args))

@@ -414,7 +414,7 @@ func TestPatternLimits(t *testing.T) {
 
 // argumentLists are lists of arguments that fit the example, of different lengths.
 func argumentLists() [][]impl.Value {
-	lists := [][]impl.Value{nil, valuesOf("F(X)", "L"), valuesOf("NODE(X)", "", ""), valuesOf(arrayRef(1), integerOf(2)), valuesOf(recordRef(4), "x"), slices.Repeat(valuesOf("x"), 7), slices.Repeat(valuesOf(1), 1000)}
+	lists := [][]impl.Value{nil, valuesOf("F(X)", "L"), valuesOf("NODE(X)", "", ""), valuesOf(arrayRef(1), integerOf(2)), valuesOf(recordRef(4), "x"), slices.Repeat(valuesOf("x"), 7), slices.Repeat(valuesOf(1), 1000), valuesOf("B", "R"), valuesOf("B", "W"), valuesOf("C", "A"), valuesOf("a", "line"), valuesOf("A"), valuesOf("B")}
 	for _, v := range valuesOf("", "x", 3, "NEW(X,Y)Z", "R(A,B)", patternOf("rem"), patternOf("none"), arrayRef(1), tableRef(2), recordRef(4), nameOf("A"), deferOf("A")) {
 		lists = append(lists, []impl.Value{v}, []impl.Value{v, integerOf(1), v}[:2+len(lists)%2])
 	}
@@ -429,7 +429,7 @@ func TestApplyNamedAgainstModel(t *testing.T) {
 		Types:     []impl.RecordType{recordType("A", "B", "A"), recordType("B", "C", "SIZE"), recordType("DEFINE", "X"), recordType("SIZE", "LEN"), recordType("TABLE", "DEFINE", "EQ", "NODE")},
 	}
 	memories := append(validMemories()[:5], namedMemory{"names of all sorts", impl.Memory{Heap: exampleHeap(), Scope: both}}, namedMemory{"a full heap", impl.Memory{Heap: fullHeap(), Scope: impl.Scope{Functions: exampleScope().Functions, Types: exampleScope().Types}}})
-	names := append(withoutFiles(), "DEFINE", "DATA", "A", "B", "C", "F", "G", "NODE", "LEFT", "RIGHT", "X", "x", "NONE", "define", "REM", "INPUT", "N000", "N005", "OUTPUT")
+	names := append(sortedBuiltins(), "DEFINE", "DATA", "A", "B", "C", "F", "G", "NODE", "LEFT", "RIGHT", "X", "x", "NONE", "define", "REM", "INPUT", "N000", "N005", "OUTPUT")
 	codes := map[int64]int{}
 	for _, c := range memories {
 		for _, name := range append(names, noNames()...) {
@@ -530,15 +530,105 @@ func TestApplyDefinitions(t *testing.T) {
 	}
 }
 
-// TestApplyFileFunctions checks only the errors that come before what these functions do.
+// TestApplyFileFunctions calls the functions on files, which only change the console of a memory.
 func TestApplyFileFunctions(t *testing.T) {
 	m := exampleMemory()
+	with := func(f impl.File, v impl.Value) evalResult {
+		want := m
+		want.Console = withFiles(m.Console, changedFile(m.Console, f))
+		return valued(want, v, true, impl.OK)
+	}
+	null := stringOf("")
+	for _, c := range []struct {
+		name string
+		args []impl.Value
+		want evalResult
+	}{
+		{"OPEN", valuesOf("B", "R"), with(fileIn("B", 1, 0, "closed"), null)}, {"OPEN", valuesOf("B", "W"), with(fileIn("B", 2, 0), null)}, {"OPEN", valuesOf("C", "A"), with(fileIn("C", 3, 0), null)}, {"OPEN", valuesOf("C", "R"), ended(impl.ErrNotFound)}, {"OPEN", valuesOf("A", "R"), ended(impl.ErrState)}, {"OPEN", valuesOf("B"), ended(impl.ErrRange)},
+		{"GET", valuesOf("A"), with(fileIn("A", 1, 2, "a", "b"), stringOf("b"))}, {"GET", valuesOf("B"), ended(impl.ErrState)}, {"GET", nil, ended(impl.ErrInvalid)}, {"GET", valuesOf(arrayRef(1)), ended(impl.ErrType)},
+		{"PUT", valuesOf("a", 5), with(fileIn("a", 2, 0, "", "", "", "5"), null)}, {"PUT", valuesOf("a"), with(fileIn("a", 2, 0, "", "", "", ""), null)}, {"PUT", valuesOf("A", 5), ended(impl.ErrState)}, {"PUT", valuesOf("a", tableRef(2)), ended(impl.ErrType)},
+		{"CLOSE", valuesOf("A"), with(fileIn("A", 0, 0, "a", "b"), null)}, {"REWIND", valuesOf("A"), with(fileIn("A", 1, 0, "a", "b"), null)}, {"REWIND", valuesOf("C"), ended(impl.ErrNotFound)}, {"ERASE", valuesOf("A"), ended(impl.ErrState)},
+	} {
+		checkEval(t, fmt.Sprintf("%s of %.60q", c.name, fmt.Sprint(c.args)), valued(impl.ApplyNamed(m, c.name, c.args)), c.want)
+	}
+	end := with(fileIn("A", 1, 2, "a", "b"), null).m
+	checkEval(t, "GET at the end", valued(impl.ApplyNamed(end, "GET", valuesOf("A"))), fails(end))
 	for _, name := range sortedBuiltins(ofFiles) {
 		many := slices.Repeat(valuesOf("x"), len(builtinRows[name].params)+1)
 		checkEval(t, name, valued(impl.ApplyNamed(m, name, many)), ended(impl.ErrRange))
 		checkEval(t, name, valued(impl.ApplyNamed(m, name, []impl.Value{{}})), ended(impl.ErrInvalid))
 		checkEval(t, name, valued(impl.ApplyNamed(invalidMemories()[0].m, name, nil)), ended(impl.ErrInvalid))
+		defined := m
+		defined.Scope = modelDefineFunction(m.Scope, name+"(X)", "").s
+		checkEval(t, name+" as another function", valued(impl.ApplyNamed(defined, name, goodArguments(name))), ended(impl.ErrState))
+		defined.Scope = typesOf(recordType(name, "X", "Y"))
+		checkEval(t, name+" as a type", valued(impl.ApplyNamed(defined, name, valuesOf(1, 2, 3))), ended(impl.ErrRange))
+		defined.Scope = typesOf(recordType("R", name))
+		checkEval(t, name+" as a field", valued(impl.ApplyNamed(defined, name, valuesOf("A"))), ended(impl.ErrType))
 	}
+}
+
+// describedFiles describes the files of a console that another one does not
+// have: their names, modes, numbers of lines that have been read, and lines.
+func describedFiles(c, other impl.Console) string {
+	var list []string
+	for _, f := range c.Files {
+		if !slices.ContainsFunc(other.Files, func(g impl.File) bool { return equalFiles(f, g) }) {
+			list = append(list, fmt.Sprintf("%s %d %d %s", f.Name, f.Mode, f.At, strings.Join(f.Lines, "-")))
+		}
+	}
+	return strings.Join(list, ", ")
+}
+
+// TestEvaluateFileFunctions has expressions whose calls change files from left to right.
+func TestEvaluateFileFunctions(t *testing.T) {
+	m := exampleMemory()
+	for _, c := range []struct {
+		text  string
+		files string
+		value any
+	}{
+		{"GET('A')", "A 1 2 a-b", "b"},
+		{"REWIND('A') GET('A') GET('A')", "A 1 2 a-b", "ab"},
+		{"REWIND('A') GET('A') REWIND('A') GET('A') CLOSE('A')", "A 0 0 a-b", "aa"},
+		{"GET('A') REWIND('A') GET('A')", "", "ba"},
+		{"GET('A') GET('A')", "A 1 2 a-b", nil},
+		{"GET('A') GET('A') PUT('a','x')", "A 1 2 a-b", nil},
+		{"OPEN('B','R') GET('B')", "B 1 1 closed", "closed"},
+		{"OPEN('B','A') PUT('B',GET('A')) CLOSE('B') OPEN('B','R') GET('B') GET('B')", "A 1 2 a-b, B 1 2 closed-b", "closedb"},
+		{"OPEN('B','W') PUT('B','x') CLOSE('B') OPEN('B','R') GET('B')", "B 1 1 x", "x"},
+		{"OPEN('N','W') PUT('N',1 + 1) CLOSE('N') OPEN('N','R') (GET('N') + 1)", "N 1 1 2", 3},
+		{"ERASE('B') OPEN('B','A') 'x'", "B 3 0 ", "x"},
+		{"CLOSE('A') OPEN('A','R') GET('A')", "", "a"},
+		{"CLOSE('A') OPEN('A','W') 'x'", "A 2 0 ", "x"},
+		{"PUT('a','new') PUT('b_1',7) PUT('b_1')", "a 2 0 ---new, b_1 3 0 7-", ""},
+		{"OPEN('A','R')", "", fault(impl.ErrState)},
+		{"CLOSE('A') CLOSE('A')", "", fault(impl.ErrState)},
+		{"PUT('A','x')", "", fault(impl.ErrState)},
+		{"GET('a')", "", fault(impl.ErrState)},
+		{"ERASE('a')", "", fault(impl.ErrState)},
+		{"CLOSE('a') ERASE('a') REWIND('a')", "", fault(impl.ErrNotFound)},
+		{"OPEN('N') GET('N')", "", fault(impl.ErrRange)},
+		{"OPEN(.B,'R')", "", fault(impl.ErrType)},
+		{"GET('A','')", "", fault(impl.ErrRange)},
+		{"GET()", "", fault(impl.ErrInvalid)},
+	} {
+		e := parsedExpr(t, c.text)
+		got := valued(impl.Evaluate(m, e))
+		checkEval(t, c.text, got, modelEvaluate(m, e))
+		want := fails(got.m)
+		switch x := c.value.(type) {
+		case fault:
+			want = ended(int64(x))
+		case string, int:
+			want = valued(got.m, valuesOf(x)[0], true, impl.OK)
+		}
+		checkEval(t, c.text, got, want)
+		checkEqual(t, c.text+": files", describedFiles(got.m.Console, m.Console), c.files)
+	}
+	_, target, succeeds, code := impl.EvalTarget(m, parsedExpr(t, "$GET('A')"))
+	checkEqual(t, "a target", target, impl.Target{Kind: impl.TgVariable, Name: "b"})
+	checkEqual(t, "a target", judged{succeeds, code}, judged{true, impl.OK})
 }
 
 func TestApplyFullHeap(t *testing.T) {

@@ -10,7 +10,7 @@ import (
 	"loop.example/g00873/impl"
 )
 
-// The tests of this file are for the functions of chapter 21 that evaluation and execution need.
+// The tests of this file are for consoles as a whole, their lines of input and output, and traces (chapter 21).
 
 func TestConsoleConstants(t *testing.T) {
 	checkList(t, "limits", []int64{impl.MaxInput, impl.MaxOutput, impl.MaxTrace, impl.MaxFiles, impl.MaxFileLines, impl.MaxTraceText}, []int64{100, 100, 200, 6, 40, 1300})
