@@ -29,7 +29,7 @@ type builtinResult struct {
 	rest     string
 }
 
-// builtinFunctions are all functions of chapter 17 except CallFile.
+// builtinFunctions are all functions of chapter 17.
 func builtinFunctions() map[string]func(c builtinCase) builtinResult {
 	return map[string]func(c builtinCase) builtinResult{
 		"BuiltinNames": func(c builtinCase) builtinResult {
@@ -66,6 +66,9 @@ func builtinFunctions() map[string]func(c builtinCase) builtinResult {
 		},
 		"CallHeap": func(c builtinCase) builtinResult {
 			return builtinResult{callResult: calledHeap(impl.CallHeap(c.h, c.name, c.args))}
+		},
+		"CallFile": func(c builtinCase) builtinResult {
+			return builtinResult{callResult: calledFile(impl.CallFile(c.c, c.name, c.args))}
 		},
 		"CallBuiltin": func(c builtinCase) builtinResult {
 			return builtinResult{callResult: calledAny(impl.CallBuiltin(c.h, c.c, c.name, c.args))}
@@ -106,6 +109,16 @@ func builtinCases() []builtinCase {
 		add(name, arrayRef(1), integerOf(1))
 		add(name, tableRef(3), integerOf(9))
 		add(name, impl.Value{})
+	}
+	for range 7 {
+		for _, name := range sortedBuiltins(ofFiles) {
+			for _, file := range []string{"A", "B", "a", "b_1", "NEW"} {
+				add(name, valuesOf(file, "R", "W", "A")[:len(builtinRows[name].params)]...)
+			}
+			add(name, goodArguments(name)...)
+		}
+		add("OPEN", valuesOf("B", "A")...)
+		add("OPEN", valuesOf("B", "W")...)
 	}
 	return cases
 }
@@ -230,7 +243,7 @@ func TestBuiltinFunctionsArePure(t *testing.T) {
 		copied: copyBuiltinCase, roomy: roomyBuiltinCase, turned: turnedBuiltinCase, watch: watchBuiltinCase,
 		addCase: patternMemory.addBuiltinCase, addResult: patternMemory.addBuiltinResult, overwrite: overwriteBuiltinResult,
 	}
-	p.checkAll(t, map[string]int{"BuiltinNames": 10000, "ToPattern": 500, "CallPattern": 20, "CallHeap": 1500, "CallBuiltin": 50000})
+	p.checkAll(t, map[string]int{"BuiltinNames": 10000, "ToPattern": 500, "CallPattern": 20, "CallHeap": 1500, "CallFile": 1500, "CallBuiltin": 50000})
 }
 
 // TestFailuresOfBuiltinFunctions checks that nothing but the code is left of a call with an error, and no value of a function that fails.
@@ -248,7 +261,7 @@ func TestFailuresOfBuiltinFunctions(t *testing.T) {
 			}
 		}
 	}
-	for _, call := range []string{"CallPredicate", "CallString", "CallPattern", "CallHeap", "CallBuiltin"} {
+	for _, call := range []string{"CallPredicate", "CallString", "CallPattern", "CallHeap", "CallFile", "CallBuiltin"} {
 		for _, code := range []int64{impl.OK, impl.ErrInvalid, impl.ErrRange, impl.ErrType, impl.ErrUndefined} {
 			if codes[fmt.Sprint(call, code)] < 5 {
 				t.Errorf("%s returned the code %d only %d times", call, code, codes[fmt.Sprint(call, code)])

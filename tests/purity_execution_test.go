@@ -10,7 +10,7 @@ import (
 	"loop.example/g00873/impl"
 )
 
-// The tests of this file are promise 1 for the functions of chapters 19 and 20, and for those of chapter 21 that they need.
+// The tests of this file are promise 1 for the functions of chapters 19 and 20.
 
 // runCase has arguments of these functions. The number is a kind, an index, fuel, an interval or the number of a statement.
 type runCase struct {
@@ -56,10 +56,6 @@ func pureOutcome(x impl.Outcome) pureResult {
 	return pure(x.Memory, x.At, x.Steps, x.Code)
 }
 
-func pureConsole(c impl.Console, rest ...any) pureResult {
-	return pure(impl.Memory{Console: c}, rest...)
-}
-
 // evaluationFunctions are all functions of chapter 19.
 func evaluationFunctions() map[string]func(c runCase) pureResult {
 	return map[string]func(c runCase) pureResult{
@@ -98,7 +94,7 @@ func evaluationFunctions() map[string]func(c runCase) pureResult {
 	}
 }
 
-// executionFunctions are all functions of chapter 20, and those of chapter 21 that they need.
+// executionFunctions are all functions of chapter 20.
 func executionFunctions() map[string]func(c runCase) pureResult {
 	return map[string]func(c runCase) pureResult{
 		"NewMemory": func(c runCase) pureResult {
@@ -126,25 +122,6 @@ func executionFunctions() map[string]func(c runCase) pureResult {
 		"OutputOf": func(c runCase) pureResult {
 			output, code := impl.OutputOf(c.source, c.input, 100)
 			return pureResult{output: output, rest: fmt.Sprint(code)}
-		},
-		"ValidConsole": func(c runCase) pureResult { return pure(impl.Memory{}, impl.ValidConsole(c.m.Console)) },
-		"SameConsole": func(c runCase) pureResult {
-			return pure(impl.Memory{}, impl.SameConsole(c.m.Console, c.m.Console), impl.SameConsole(exampleConsole(), c.m.Console))
-		},
-		"ReadLine": func(c runCase) pureResult {
-			console, line, ok := impl.ReadLine(c.m.Console)
-			return pureConsole(console, line, ok)
-		},
-		"WriteLine": func(c runCase) pureResult {
-			console, code := impl.WriteLine(c.m.Console, c.source)
-			return pureConsole(console, code)
-		},
-		"TraceText": func(c runCase) pureResult {
-			return pure(impl.Memory{}, impl.TraceText(c.n, c.n, c.name, c.v))
-		},
-		"AddTrace": func(c runCase) pureResult {
-			console, code := impl.AddTrace(c.m.Console, c.n, c.n, c.name, c.v)
-			return pureConsole(console, code)
 		},
 	}
 }
@@ -175,24 +152,28 @@ func runCases(t *testing.T) []runCase {
 	kids := []impl.Expr{variable("X"), number(1)}
 	sum := node(impl.ExAdd, kids...)
 	shared := node(impl.ExAlt, node(impl.ExAlt, kids...), node(impl.ExAlt, kids...))
-	sources := []string{factorial, " OUTPUT = INPUT; L = ARRAY(2); L<1> = 3; OUTPUT = L<1> :(END);END\n", "F F = X :(RETURN);L Y = F(1) L<1>\n", " T<L> = 'x'; S = TABLE(); DATA('R(A,B)'); L<1> = R(L); DEFINE('H(X)','F'); OUTPUT = H(5);END\n", " A =B\n", "", " 'abc' ARB . OUTPUT LEN(1) $ X @Y; TRACE = 1; F(1);F F = 'x' P :(FRETURN)\n"}
+	sources := []string{factorial, " OUTPUT = INPUT; L = ARRAY(2); L<1> = 3; OUTPUT = L<1> :(END);END\n", "F F = X :(RETURN);L Y = F(1) L<1>\n", " T<L> = 'x'; S = TABLE(); DATA('R(A,B)'); L<1> = R(L); DEFINE('H(X)','F'); OUTPUT = H(5);END\n", " A =B\n", "", " 'abc' ARB . OUTPUT LEN(1) $ X @Y; TRACE = 1; F(1);F F = 'x' P :(FRETURN)\n", " OPEN('Q','W'); PUT('Q',INPUT); CLOSE('Q'); OPEN('Q','R'); OUTPUT = GET('Q')\n"}
 	programs := []impl.Program{p, program(labelled("F", subject(sum)), withReplace(subject(variable("A")), shared), subject(shared), withPattern(subject(number(1)), sum)), {}, program(impl.Statement{})}
-	for _, source := range sources[:4] {
+	for _, source := range append(sources[:4:4], sources[7], " PUT('a',GET('A')); REWIND('A') CLOSE('a') OPEN('B','A'); ERASE('a') PUT('B','x')\n", " S = GET('A') GET('A'); OUTPUT = OPEN('B','R') GET('B')\n") {
 		programs = append(programs, parsedProgram(t, source))
 	}
 	memories := []impl.Memory{m, exampleMemory(), sharedMemory(), {}, fullMemory(), sharedMemory(), {Heap: impl.Heap{Objects: []impl.Object{}}, Scope: impl.Scope{Vars: []impl.Binding{}, Functions: []impl.Function{}}, Console: impl.Console{Input: []string{}}}, invalidMemories()[0].m, {Heap: exampleHeap(), Scope: varsOf(binding("A", arrayRef(3)))}}
 	exprs := []impl.Expr{shared, sum, call("F", kids...), call("F", kids[1]), {}, call("1")}
-	for _, s := range []string{"INPUT", "L<1>", "T<L>", "ARRAY(3,L)", "TABLE(T)", "NODE(L,T,1)", "X(NODE(1))", "F(1)", "G(1,2)", "SIZE('x')", "DEFINE('H(A,B)C')", "DATA('R(A,B)')", "1 / 0", "EQ(1,2)", "$'L'", "A . X", "P | Q", "P Q . X", "COPY(L)", "LEN(1)", "F(F(1))", "$X", "X(L)", "KEY(T,2)"} {
+	for _, s := range []string{"INPUT", "L<1>", "T<L>", "ARRAY(3,L)", "TABLE(T)", "NODE(L,T,1)", "X(NODE(1))", "F(1)", "G(1,2)", "SIZE('x')", "DEFINE('H(A,B)C')", "DATA('R(A,B)')", "1 / 0", "EQ(1,2)", "$'L'", "A . X", "P | Q", "P Q . X", "COPY(L)", "LEN(1)", "F(F(1))", "$X", "X(L)", "KEY(T,2)", "GET('A')", "OPEN('B','A')", "OPEN('NEW','W')", "PUT('a','x')", "CLOSE('A')", "REWIND('A') GET('A')", "ERASE('B')"} {
 		exprs = append(exprs, parsedExpr(t, s))
 	}
 	names := []string{"L", "INPUT", "OUTPUT", "F", "G", "NODE", "X", "A", "SIZE", "DEFINE", "DATA", "TABLE", "REM", "1", "N000", "COPY", "B"}
+	names = append(names, sortedBuiltins(ofFiles)...)
 	values := valuesOf("", "x", 3, arrayRef(1), "H(A,B)C", patternOf("alt(rem,arb)"), nameOf("L"), deferOf("P"), impl.Value{}, recordRef(4))
 	targets := []impl.Target{{Kind: 1, Name: "L"}, {Kind: 1, Name: "OUTPUT"}, {Kind: 2, Object: arrayRef(1), Index: integerOf(1)}, {Kind: 2, Object: arrayRef(1), Index: integerOf(9)}, {Kind: 3, Name: "A", Object: recordRef(4)}, {Kind: 1, Name: "INPUT"}, {}, {Kind: 2, Object: tableRef(3), Index: arrayRef(1)}}
 	gotos := []impl.Goto{{}, {Always: "F"}, {Success: "END", Failure: "RETURN"}, {Always: "NONE"}, {Always: "A", Success: "A"}}
 	inputs := [][]string{{"a", "7", ""}, nil, {}, {strings.Repeat("x", 201)}}
 	var cases []runCase
-	for i := range 17 * 24 {
-		c := runCase{programs[i%8], memories[i%9], exprs[i%30], names[i%17], values[i%10], values[i%7 : i%7+i%3 : i%7+i%3], targets[i/2%8], gotos[i%5], int64(i%14) - 1, sources[i%7], inputs[i%4]}
+	for i := range 23 * 24 {
+		c := runCase{programs[i%11], memories[i%9], exprs[i%37], names[i%23], values[i%10], values[i%7 : i%7+i%3 : i%7+i%3], targets[i/2%8], gotos[i%5], int64(i%14) - 1, sources[i/2%8], inputs[i%4]}
+		if builtinRows[c.name].table == ofFiles && i%4 > 0 {
+			c.args = goodArguments(c.name)
+		}
 		cases = append(cases, c)
 	}
 	return cases
@@ -305,13 +286,17 @@ func TestEvaluationFunctionsArePure(t *testing.T) {
 }
 
 func TestExecutionFunctionsArePure(t *testing.T) {
-	runPurity(t, executionFunctions()).checkAll(t, map[string]int{"NewMemory": 500, "EvaluateIn": 5000, "CallProgram": 100, "RunStatement": 1000, "RunProgram": 5000, "RunProgram, some fuel": 5000, "CollectMemory": 5000, "RunCollecting": 5000, "OutputOf": 20, "ReadLine": 5000, "WriteLine": 1000, "AddTrace": 500})
+	runPurity(t, executionFunctions()).checkAll(t, map[string]int{"NewMemory": 500, "EvaluateIn": 5000, "CallProgram": 100, "RunStatement": 1000, "RunProgram": 5000, "RunProgram, some fuel": 5000, "CollectMemory": 5000, "RunCollecting": 5000, "OutputOf": 20})
 }
 
 // TestFailuresOfExecution checks that nothing but the code is left of a call with an error, and no value of one that fails.
 func TestFailuresOfExecution(t *testing.T) {
 	codes := map[int64]int{}
+	changed := 0
 	for i, c := range runCases(t) {
+		if r := valued(impl.ApplyNamed(c.m, c.name, c.args)); r.code == impl.OK && !slices.EqualFunc(r.m.Console.Files, c.m.Console.Files, equalFiles) {
+			changed++
+		}
 		for what, r := range map[string]evalResult{
 			"ReadVariable":  valued(impl.ReadVariable(c.m, c.name)),
 			"WriteVariable": written(impl.WriteVariable(c.m, c.name, c.v)),
@@ -343,7 +328,10 @@ func TestFailuresOfExecution(t *testing.T) {
 			}
 		}
 	}
-	for _, code := range []int64{impl.OK, impl.ErrInvalid, impl.ErrRange, impl.ErrType, impl.ErrUndefined, impl.ErrState} {
+	if changed < 15 {
+		t.Errorf("files were changed only %d times", changed)
+	}
+	for _, code := range []int64{impl.OK, impl.ErrInvalid, impl.ErrRange, impl.ErrType, impl.ErrUndefined, impl.ErrState, impl.ErrNotFound} {
 		if codes[code] < 10 {
 			t.Errorf("the code %d was returned only %d times", code, codes[code])
 		}
