@@ -123,7 +123,7 @@ func checkConsoleLeft(t *testing.T, what string, c impl.Console, name string, ar
 		t.Errorf("%s: the console is invalid: %.500q", what, fmt.Sprint(left))
 	}
 	before, after := filesOf(c), filesOf(left)
-	if builtinRows[name].table == ofFiles {
+	if builtinRows[name].table == ofFiles && len(args) > 0 {
 		delete(before, args[0].Text)
 		delete(after, args[0].Text)
 	}
