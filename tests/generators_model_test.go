@@ -55,7 +55,8 @@ func genRows() map[int64]genRow {
 
 var genOperators = strings.Fields("add sub mul div cat lt le eq ne gt ge seq sne slt is")
 
-// modelGen returns the number of nodes and the text form of an expression. The number is 1000 if it is invalid.
+// modelGen returns the number of nodes and the text form of an expression. The
+// number is 1000 if it is invalid; there is no text form if it is above 60.
 func modelGen(e impl.Gen) (int, string) {
 	row, isKind := genRows()[e.Kind]
 	value := e.Kind == impl.GnValue
@@ -86,6 +87,9 @@ func modelGen(e impl.Gen) (int, string) {
 		count, text := modelGen(kid)
 		nodes = min(nodes+count, 1000)
 		parts = append(parts, text)
+	}
+	if nodes > 60 {
+		return nodes, ""
 	}
 	return nodes, fmt.Sprintf(row.form, parts...)
 }
