@@ -27,8 +27,10 @@ type genRow struct {
 	count int64
 }
 
-// genRows returns the rows by kind.
-func genRows() map[int64]genRow {
+// genRows has the rows by kind.
+var genRows = makeGenRows()
+
+func makeGenRows() map[int64]genRow {
 	alone, one := map[int64][]int{1: nil}, map[int64][]int{1: {0}}
 	two, three := map[int64][]int{1: {0, 1}}, map[int64][]int{1: {0, 1, 2}}
 	return map[int64]genRow{
@@ -58,7 +60,7 @@ var genOperators = strings.Fields("add sub mul div cat lt le eq ne gt ge seq sne
 // modelGen returns the number of nodes and the text form of an expression. The
 // number is 1000 if it is invalid; there is no text form if it is above 60.
 func modelGen(e impl.Gen) (int, string) {
-	row, isKind := genRows()[e.Kind]
+	row, isKind := genRows[e.Kind]
 	value := e.Kind == impl.GnValue
 	isValid := isKind && len(e.Kids) == row.kids && (row.number || e.Num == 0) && e.Num >= 0 && e.Num <= 60 && (value || e.Value == impl.Value{})
 	var parts []any
@@ -125,7 +127,7 @@ func isZeroCursor(c impl.Cursor) bool {
 
 // isModelCursor reports whether a cursor is a suspended one of a valid expression.
 func isModelCursor(list []impl.Object, e impl.Gen, c impl.Cursor) bool {
-	row := genRows()[e.Kind]
+	row := genRows[e.Kind]
 	kept, isPhase := row.kept[c.Phase]
 	if !isPhase || len(c.Vals) != row.vals || len(c.Kids) != len(kept) {
 		return false
@@ -346,18 +348,17 @@ func (r *genRun) limited(e impl.Gen, count int64, from impl.Cursor, visit visito
 
 // repeated resumes the Kid from the beginning each time that it has failed, also the first time.
 func (r *genRun) repeated(e impl.Gen, from impl.Cursor, deliver visitor) bool {
-	for isFirst, isFound := true, true; isFirst || isFound; isFirst = false {
-		isFound = false
+	for isFirst := true; ; isFirst = false {
+		isFound := false
 		isDone := r.each(e.Kids[0], from, func(v impl.Value, kid impl.Cursor) bool {
 			isFound = true
 			return deliver(v, kid)
 		})
-		if !isDone {
-			return false
+		if !isDone || !isFound && !isFirst {
+			return isDone
 		}
 		from = impl.Cursor{}
 	}
-	return true
 }
 
 // combined visits the results for each combination of operands.
@@ -651,6 +652,9 @@ func modelResume(s impl.GenScope, e impl.Gen, c impl.Cursor) genResult {
 
 // modelSeries returns the results of resuming again and again, up to a number of times, without stopping in between.
 func modelSeries(s impl.GenScope, e impl.Gen, c impl.Cursor, limit int) []genResult {
+	if !isModelState(s, e, c) {
+		return []genResult{{code: impl.ErrInvalid}}
+	}
 	var list []genResult
 	last := protected(func() genResult {
 		r := newGenRun(s)
@@ -843,9 +847,24 @@ func equalGenResults(a, b genResult) bool {
 
 func checkGenResult(t *testing.T, what string, got, want genResult) {
 	t.Helper()
-	if !equalGenResults(got, want) {
-		t.Errorf("%.1000s:\ngot  %.1500q,\nwant %.1500q", what, fmt.Sprintf("%+v", got), fmt.Sprintf("%+v", want))
+	if equalGenResults(got, want) {
+		return
 	}
+	t.Errorf("%.1000s:", what)
+	difference := func(part string, a, b any) {
+		if x, y := fmt.Sprintf("%+v", a), fmt.Sprintf("%+v", b); x != y {
+			t.Errorf("%s: got %.300q, want %.300q", part, x, y)
+		}
+	}
+	difference("code", got.code, want.code)
+	difference("found", got.found, want.found)
+	difference("value", got.v, want.v)
+	difference("list", got.list, want.list)
+	difference("cursor", got.c, want.c)
+	difference("steps", got.s.Steps, want.s.Steps)
+	difference("variables", got.s.Vars, want.s.Vars)
+	difference("heap", got.s.Heap, want.s.Heap)
+	difference("co-expressions", got.s.Cos, want.s.Cos)
 }
 
 func copyGen(e impl.Gen) impl.Gen {

@@ -68,7 +68,7 @@ func noGenTexts() []string {
 		"alt(1,2)X", "alt(1,<rem>)", "alt(1,.X)", "alt(*X,1)", "not(_)", "each(\"a)", "not(not(X)", strings.Repeat("not(", 60) + "X" + strings.Repeat(")", 60),
 		strings.Repeat("alt(1,", 30) + "1" + strings.Repeat(")", 30), strings.Repeat("not(", 1000000), strings.Repeat("(", 1000000), strings.Repeat("X", 1000000), `"` + strings.Repeat("x", 1000000), "limit(" + strings.Repeat("9", 1000000) + ",X)",
 	}
-	for kind := range genRows() {
+	for kind := range genRows {
 		list = append(list, fmt.Sprint(kind, "(1,2)"))
 	}
 	return list
@@ -165,7 +165,7 @@ func TestValidGenerators(t *testing.T) {
 					for count := range 5 {
 						check(impl.Gen{Kind: kind, Num: n, Text: text, Value: v, Kids: kids[:count]})
 					}
-					check(impl.Gen{Kind: kind, Num: n, Text: text, Value: v, Kids: bad[:genRows()[kind].kids]})
+					check(impl.Gen{Kind: kind, Num: n, Text: text, Value: v, Kids: bad[:genRows[kind].kids]})
 				}
 			}
 		}
