@@ -49,7 +49,7 @@ func (m genMaker) leaf(sort int) impl.Gen {
 	case objectResult:
 		return pick(m, genVar("L"), genVar("T"), genVar("R"), genVar("Z"), genValue(arrayRef(1)), genValue(recordRef(4)))
 	case coResult:
-		return genValue(integerOf(int64(m.Intn(20)%7%5)))
+		return genValue(integerOf(int64(m.Intn(20) % 7 % 5)))
 	}
 	return m.leaf(pick(m, integerResult, integerResult, textResult, objectResult))
 }

@@ -370,6 +370,7 @@ func invalidGenScopes(t *testing.T) []namedGenScope {
 		co(what+" in Vars", func(x *impl.Coexpr) { x.Vars = []impl.Binding{binding("A", integerOf(1)), binding("B", v)} })
 		co(what+" in a cursor", func(x *impl.Coexpr) { x.Cursor.Kids[0].Vals[0] = v })
 		add(what+" in the scope", func(s *impl.GenScope) { s.Vars = []impl.Binding{binding("A", integerOf(1)), binding("B", v)} })
+		add(what+" in the first variable", func(s *impl.GenScope) { s.Vars[0].Value = v })
 	}
 	for _, x := range invalidScopes() {
 		if len(x.s.Vars) > 0 {
