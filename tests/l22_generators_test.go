@@ -782,6 +782,16 @@ func TestEffectsOfActivations(t *testing.T) {
 	checkHeap(t, "heap", last.s.Heap, heapWith(1, arrayWith(1, integerOf(5))))
 }
 
+// TestVariablesOfActivations has MaxVars variables in the scope, and in a co-expression.
+func TestVariablesOfActivations(t *testing.T) {
+	s := coScope(coWith(t, 1, "set(X,1)"), coWith(t, 2, "set(X,1)", fullVars()...))
+	s.Vars = fullVars()
+	list, last := seriesOf(s, gen(t, "activate(1)"), 10)
+	checkEqual(t, "a full scope", formsOf(list)+" "+varTexts(last.s.Cos[0].Vars), "1 X=1")
+	checkList(t, "the variables of the scope", last.s.Vars, fullVars())
+	checkGenResult(t, "a full co-expression", resumed(impl.Resume(s, gen(t, "activate(2)"), impl.Cursor{})), genResult{code: impl.ErrFull})
+}
+
 func TestActivationsThatAreActive(t *testing.T) {
 	const chain = "activate(%d)"
 	var list []impl.Coexpr
